@@ -1,0 +1,1 @@
+"""Cancelsback: what can come of told versions by merges."""
