@@ -122,7 +122,7 @@ class LanguageTest(unittest.TestCase):
                 if isinstance(node, ast.FunctionDef):
                     for word in assigned_names(node):
                         self.assertNotIn(word, barred, (name, node.name))
-                        self.assertFalse(hasattr(builtins, word), (name, node.name, word))
+                        self.assertFalse(word != "_" and hasattr(builtins, word), (name, node.name, word))
                 if isinstance(node, (ast.FunctionDef, ast.ClassDef)) and not node.name.startswith("__"):
                     self.assertFalse(hasattr(builtins, node.name) or node.name in BANNED_NAMES, (name, node.name))
                 if isinstance(node, ast.Name) and hasattr(builtins, node.id):

@@ -1,0 +1,73 @@
+"""The rows of the document that begin with the sign of Python's prompt, of the chapters that are built."""
+
+import doctest
+import unittest
+
+ROWS = {
+    "chapter 1": """
+    >>> from cancelsback.merges import merge_texts
+    >>> merge_texts((1, 2, 3), (4, 2, 3), (1, 2, 5, 6)), merge_texts((1, 2), (1, 3), (1, 4))
+    ((4, 2, 5, 6), None)
+    """,
+    "chapter 4": """
+    >>> from cancelsback.merges import clash_lines, history_texts, merge_cuts, merge_texts, merge_word, missing_base
+    >>> merge_texts((1, 2, 2, 3), (4, 2, 2, 3), (1, 2, 2, 5)), merge_cuts((1, 2, 2, 3), (4, 2, 2, 3), (1, 2, 2, 5))
+    ((4, 2, 2, 5), (1, 2, 3))
+    >>> clash_lines((1, 2), (1, 3), (1, 4)), merge_word((1, 2), (1, 3), (1, 4))
+    ((1, 2), ((1, 1), (3, 1), (2, -1), (4, 1)))
+    >>> missing_base((4, 2, 2, 3), (1, 2, 2, 5), (4, 2, 2, 5)), history_texts([("told", [1]), ("told", []), ("merge", 1, 0, 0)])
+    ((1, 2, 2, 3), ((1,), (), (1, 1)))
+    >>> from cancelsback.merges import pair_count, pick_row, row_change
+    >>> row_change([((1,), (2, 3)), ((2, 3, 4), (5,))]), pick_row((1, 4), [("front", (1,), ()), ("back", (4,), (6,))])
+    (('change', (1, 4), (5,)), ('comes', (6,)))
+    >>> pair_count((1, 2), (2,))
+    5
+    """,
+    "chapter 10": """
+    >>> from cancelsback.histories import elder_fault, margin_pairs, plan_rows, plan_texts, rounds_paper
+    >>> plan = [("version", 0), ("version", 1), ("merge", 0, 1, 1), ("merge", 1, 2, 0)]
+    >>> plan_rows(2, plan)[2:], plan_texts([(0, 0, 1), (0, 1)], plan)[2:], elder_fault(2, plan)
+    (((1, 0, 1), (1,)), ((1,), (0, 1)), 3)
+    >>> margin_pairs([(1,), (2,), (3,)], (0, 1, 2)), margin_pairs([(1,), (2,), ()], (0, 1, 2))
+    ((), (((), (2,)),))
+    >>> rounds_paper([(0, 1, 1, 2), (0, 1, 1, 1, 2)])
+    ('block', (0,), (1,), (2,), (2, 3))
+    """,
+    "chapter 12": """
+    >>> from cancelsback.tables import ShownTable, cell_texts, table_count
+    >>> table = ShownTable(2, 2, [(0, 0, (1, 2)), (1, 1, (2, 3))])
+    >>> table_count(table), cell_texts(table, 1, 0)[:3]
+    (8, ((), (1, 2), (2,)))
+    """,
+    "chapter 13": """
+    >>> from cancelsback.amounts import bags_form, least_debt, lost_bags
+    >>> told = [(1, 1, 1), (3, 0, 0), (0, 3, 0)]
+    >>> bags_form(told)
+    ((), (), (((0, 3, 0), ()), ((1, 1, 1), ()), ((3, 0, 0), ())))
+    >>> lost_bags(told, 3), least_debt(told, (0, 0, 3))
+    (((0, 0, 3),), 1)
+    >>> bags_form([(2, 0), (0, 5), (4, 1)])
+    ((0, 1), ((2, 1), (0, 6)), (((), (0, 5)),))
+    """,
+    "chapter 14": """
+    >>> from cancelsback.releases import fewest_paper, lost_text, over_paper, ring_paper
+    >>> over_paper([(0, 1), (0, 2, 1)], [(0, 1)], (0, 2, 2, 1))[0], over_paper([(0, 1), (0, 2, 1)], [(0, 2, 1)], (0, 2, 2, 1))[0]
+    ('row', 'bars')
+    >>> fewest_paper([(0, 1), (0, 2, 1)], [(0, 1)], (0, 2, 2, 1))[0]
+    ((0, 2, 1), (0, 1), (0, 2, 1))
+    >>> ring_paper([(0,), (0, 0)], [(0, 0)]), lost_text([(0,), (0, 0)], [(0,), (0, 0)], [(0, 0)])
+    (('finite', 3), (0, 0, 0))
+    """,
+}
+
+
+class ExamplesTest(unittest.TestCase):
+
+    def test_rows(self):
+        for name, rows in ROWS.items():
+            with self.subTest(name):
+                example = doctest.DocTestParser().get_doctest(rows, {}, name, None, 0)
+                told = []
+                result = doctest.DocTestRunner(verbose=False).run(example, out=told.append)
+                self.assertEqual((result.failed, told), (0, []))
+                self.assertGreater(result.attempted, 1)
