@@ -227,6 +227,21 @@ class ComingTest(Case):
                     tried += 1
         self.assertGreater(tried, 50)
 
+    def test_the_form_is_closed(self):
+        generator = random.Random(58)
+        for told in small_lots(generator, 25):
+            free, group, rows = form = bags_form(told)
+            self.assertTrue(all(form_brings(form, len(bag), bag) for bag in told))
+            if len(rows) <= 25:
+                for base, mine, yours in product(rows, repeat=3):
+                    whole, rest = [self.put_together(base[side], mine[side], yours[side]) for side in (0, 1)]
+                    if min(whole, default=0) >= 0:
+                        bag = [whole.pop(0) if letter not in free else rest.pop(0) for letter in range(len(told[0]))]
+                        self.assertTrue(form_brings(form, len(bag), bag))
+
+    def put_together(self, base, mine, yours):
+        return [kept - gone + put for gone, kept, put in zip(base, mine, yours)]
+
     def test_one_bag(self):
         self.assertEqual(bags_form([(3, 0, 5)]), ((), (), (((3, 0, 5), ()),)))
         self.assertEqual(bag_history([(2,)], (2,)), (("told", (2,)),))
