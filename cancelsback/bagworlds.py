@@ -143,15 +143,13 @@ class BagSweep:
         return False
 
     def take_in(self, node, tight):
-        """Puts all steps on to this bag, and its new steps on to all bags."""
+        """Puts the new steps of this bag on to all bags."""
         code = pack(tight)
         fresh = self.note_steps(node, code)
         self.tight_rows[tight] = node
         self.codes.append(code)
         self.nodes.append(node)
-        for step in self.steps:
-            if code + step not in self.seen:
-                self.try_sum(node, code + step, step)
+        # An earlier step put on to this bag is one of its own steps put on to an earlier bag.
         for step in fresh:
             for at, known in enumerate(self.codes):
                 if known + step not in self.seen:
@@ -184,8 +182,7 @@ class BagSweep:
     def try_sum(self, mine, code, step):
         """Notes what comes of a bag with a step put on, unless a debt is too great."""
         self.seen[code] = True
-        many = self.world.letters - sum(self.world.is_free)
-        numbers = unpack(code, many)
-        if many == 0 or min(numbers) >= -self.world.debt:
+        numbers = unpack(code, self.world.letters - sum(self.world.is_free))
+        if min(numbers) >= -self.world.debt:
             yours, base = self.steps[step]
             self.waiting.append(self.world.merge(base, mine, yours))

@@ -65,6 +65,17 @@ def level_bags(generator, total, many):
     return [bag + bag[:1] for bag in bags] if generator.random() < 0.3 else bags
 
 
+def half_free_bags(generator, many):
+    """Bags with a free letter, the others together as many in each: the first two differ in the free one alone."""
+    total = generator.randint(1, 3)
+    bags = []
+    for bag in level_bags(generator, total, many):
+        bags.append((generator.randint(0, 3),) + bag[:3])
+    more = (bags[0][0] + generator.randint(1, 3),) + bags[0][1:]
+    bags = list(dict.fromkeys([bags[0], more] + bags))
+    return bags if generator.random() < 0.5 else [bag[:3] + bag[4:] for bag in bags if bag[3] == 0] or bags
+
+
 def small_lots(generator, many):
     """Lots of told bags of all the kinds that the limits tell."""
     for _ in range(many):
@@ -76,6 +87,7 @@ def small_lots(generator, many):
         first = tuple(generator.randint(0, 3) for _ in range(4))
         more = tuple(number + generator.randint(1, 4) for number in first)
         yield list(dict.fromkeys([first, more] + random_bags(generator, 4, 7, 3)))
+        yield half_free_bags(generator, 4)
 
 
 class BagsTest(Case):
@@ -263,6 +275,16 @@ class ComingTest(Case):
         for bag in product((0, 1, 2, 9), repeat=3):
             self.check_bag(told, bags_form(told), bag)
 
+    def test_like_steps_with_unlike_free_letters(self):
+        told = [(1, 0, 2), (3, 0, 2), (0, 2, 0), (0, 1, 1)]
+        form = ((0,), ((1,),), (((0, 2), (0,)), ((1, 1), (0,)), ((2, 0), (0,))))
+        for lot in (told, told[::-1], told[2:] + told[:2]):
+            self.assertEqual(bags_form(lot), form)
+            for bag in ((7, 1, 1), (0, 0, 2), (498, 2, 0), (4, 2, 0), (4, 2, 1)):
+                self.check_bag(lot, form, bag)
+        told = [(1, 0, 2), (4, 0, 2), (0, 2, 0), (2, 1, 1)]
+        self.assertEqual(bags_form(told)[:2], ((0,), ((3,),)))
+
     def test_greatest_numbers(self):
         told = [(3, 1, 2, 0), (0, 3, 1, 2), (1, 0, 3, 3), (2, 2, 0, 1), (3, 3, 3, 3)]
         form = bags_form(told)
@@ -295,6 +317,12 @@ class LostTest(Case):
     def test_what_is_lost(self):
         self.assertEqual(lost_bags(THREE, 3), ((0, 0, 3),))
         self.assertEqual(lost_bags(THREE, 2), ())
+        for least in range(3):
+            told = [(1, 1, 1)] + [tuple(3 * (at == letter) for at in range(3)) for letter in range(3) if letter != least]
+            bag = tuple(3 * (at == least) for at in range(3))
+            self.assertEqual(lost_bags(told, 3), (bag,))
+            self.assertEqual(lost_bags(told, 2), ())
+            self.assertEqual(lost_bags([part + part[:1] for part in told], 3), (bag + bag[:1],))
         self.assertEqual(lost_bags([(3,), (5,)], 0), ())
         generator = random.Random(59)
         found = 0
@@ -323,6 +351,8 @@ class LostTest(Case):
         self.assertEqual(self.check_debt(THREE, (0, 0, 3)), 1)
         self.assertEqual(least_debt(THREE, (1, 1, 1)), 0)
         self.assertIsNone(least_debt(THREE, (0, 0, 4)))
+        self.assertEqual(least_debt([(2,)], (2,)), 0)
+        self.assertIsNone(least_debt([(2,)], (3,)))
         self.assertEqual(self.check_debt([(3, 3, 2, 3), (1, 1, 6, 1), (8, 0, 0, 8)], (0, 8, 0, 0)), 2)
         self.assertEqual(self.check_debt([(4, 3, 4, 4), (11, 0, 0, 11), (1, 9, 1, 1)], (0, 0, 11, 0)), 3)
         self.assertEqual(self.check_debt([(0, 3, 2, 0), (3, 1, 1, 1), (0, 0, 1, 3)], (9, 0, 0, 0)), 1)

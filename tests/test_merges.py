@@ -264,6 +264,8 @@ class HistoriesTest(Case):
         history = [("told", [1]), ["told", ()], ("merge", 1, 0, 0), ["merge", 0, 2, 2]]
         self.assertEqual(history_texts(history), ((1,), (), (1, 1), (1, 1, 1)))
         self.assertEqual(history_texts([("told", ())]), ((),))
+        history = [("told", (1, 2)), ("told", (3, 2)), ("told", (1, 4)), ("merge", 0, 1, 2)]
+        self.assertEqual(history_texts(history)[3], (3, 4))
 
     def test_clashes(self):
         history = [("told", (1, 2)), ("told", (1, 3)), ("merge", 0, 1, 1), ("merge", 0, 0, 0)]
@@ -274,7 +276,8 @@ class HistoriesTest(Case):
         for wrong in (None, (), [], 1, True, "told"):
             self.refuses(InvalidHistory, -1, history_texts, wrong)
         for wrong in (None, 1, "told", ("told",), ("told", (100,)), ("told", (), ()), ("merge", 0, 0), ("merge", 0, 0, 1),
-                      ("merge", 0, 0, True), ("merge", 0, -1, 0), ("merge", 0, 0, 0, 0), ("version", 0), (0, 0), ()):
+                      ("merge", 0, 0, True), ("merge", 0, -1, 0), ("merge", 0, 0, 0, 0), ("version", 0), (0, 0), (), ("tell", ()),
+                      ("front", 0, 0, 0), (None, 0, 0, 0)):
             self.refuses(InvalidHistory, 1, history_texts, [("told", ()), wrong, wrong])
         self.refuses(InvalidHistory, 0, history_texts, [("merge", 0, 0, 0)])
         for wrong in STRANGE:

@@ -159,7 +159,7 @@ class WholeTablesTest(Case):
         for value in (("goes", (((1, 2), (1, 2)), ((2, 3), (2, 2)))), ("goes", (((1, 2), (1, 2)), ((2,), (2, 3)))),
                       ("goes", (((1, 2), (1, 2)),)), ("goes", (((1, 2), [1, 2]), ((2, 3), (2, 3)))), list(good),
                       ("goes", [((1, 2), (1, 2)), ((2, 3), (2, 3))]), ("goes", (((True, 2), (1, 2)), ((2, 3), (2, 3)))),
-                      ("goes",), good + (0,), ("clash", ((0, 0),)), ("clash", ()), ("unlike", ((0, 0),), ((0, 0),)),
+                      ("goes",), good + (0,), ("went", good[1]), ("clash", ((0, 0),)), ("clash", ()), ("unlike", ((0, 0),), ((0, 0),)),
                       ("goes", (((1, 2), (1, 2), ()), ((2, 3), (2, 3), ()))), ("goes", None), ("goes", (None, None))):
             self.assertIs(table_holds(table, value), False, value)
         for value in STRANGE:
@@ -174,14 +174,16 @@ class WholeTablesTest(Case):
                              (("clash", way[:2]), False), (("clash", list(way)), False), (("clash", ()), False),
                              (("clash", ((0, 0), [1, 0], (1, 1))), False), (("clash", ((0, 0), (True, 0), (1, 1))), False),
                              (("clash", ((0, 0), (1, 0), (0, 1))), False), (("clash", None), False),
-                             (("clash", ((0, 0), (1, 1), (1, 1))), False), (("clash", way, way), False)):
+                             (("clash", ((0, 0), (1, 1), (1, 1))), False), (("clash", way, way), False),
+                             (("clash", ((0, 0), (1, 1), (1, 0))), False), (("clash", ((0, 0), (0, 0), (0, 1))), False),
+                             (("clash", ((0, 0), (1, False), (1, 1))), False), (("crash", way), False)):
             self.assertIs(table_holds(table, value), holds, value)
         table = ShownTable(2, 2, [(0, 0, ()), (1, 0, (1,)), (1, 1, (1, 2)), (0, 1, (3,))])
         self.assertEqual(table_paper(table)[0], "unlike")
         self.assertIs(table_holds(table, ("unlike", way, ((0, 1),))), True)
         self.assertIs(table_holds(table, ("unlike", ((0, 1),), way)), True)
         for value in (("unlike", way, way), ("unlike", way, ((0, 0),)), ("unlike", way, ((1, 1),)), ("unlike", way),
-                      ("unlike", way, ()), ("unlike", way, [(0, 1)]), ("clash", way), ("unlike", None, way)):
+                      ("unlike", way, ()), ("alike", way, ((0, 1),)), ("unlike", way, [(0, 1)]), ("clash", way), ("unlike", None, way)):
             self.assertIs(table_holds(table, value), False, value)
 
     def test_known_cells(self):

@@ -106,6 +106,13 @@ class WordsTest(Case):
         word = (B, A, A_UNDONE)
         self.assertIs(strikes_hold(word, ((1, 2),)), True)
         self.assertIs(strikes_hold(word, ((True, 2),)), False)
+        self.assertIs(strikes_hold((A, A_UNDONE), ((0, 1),)), True)
+        self.assertIs(strikes_hold((A, A_UNDONE), ((0, True),)), False)
+
+    def test_no_place_stands_in_two_pairs(self):
+        self.assertIs(strikes_hold((A, A_UNDONE, A), ((0, 1),)), True)
+        self.assertIs(strikes_hold((A, A_UNDONE, A), ((0, 1), (1, 2))), False)
+        self.assertIs(strikes_hold((A, B, B_UNDONE, A, A_UNDONE), ((0, 4), (1, 2), (3, 4))), False)
 
     def test_texts_as_words(self):
         self.assertEqual(text_word([0, 99, 5]), ((0, 1), (99, 1), (5, 1)))
