@@ -6,8 +6,7 @@ from cancelsback.checks import is_integer, is_number, is_number_below, is_row_of
 from cancelsback.checks import need_versions, same_paper
 from cancelsback.errors import InvalidPlan, InvalidRow, InvalidSize
 from cancelsback.merges import end_length, merge_numbers, texts_of_steps
-from cancelsback.texts import text_of, word_of
-from cancelsback.words import struck, undone
+from cancelsback.texts import product_by_turns, text_of
 
 MOST_VERSIONS = 12
 MOST_STEPS = 20
@@ -170,11 +169,7 @@ def plans_paper(many, plan, other):
 
 def row_product(texts, row):
     """The struck word that a row of versions makes."""
-    word = ()
-    for at, number in enumerate(row):
-        text = word_of(texts[number])
-        word = word + (undone(text) if at % 2 else text)
-    return struck(word)
+    return product_by_turns([texts[number] for number in row])
 
 
 def is_struck_row(row):
@@ -197,7 +192,7 @@ def least_clash(texts):
 def primitive_part(text):
     """The shortest text that makes this one when it is repeated."""
     for length in range(1, len(text)):
-        if len(text) % length == 0 and text[:length] * (len(text) // length) == text:
+        if text[:length] * (len(text) // length) == text:
             return text[:length]
     return text
 

@@ -3,8 +3,7 @@
 from cancelsback.checks import is_number_below, is_row_of, is_sequence, is_word
 from cancelsback.checks import need_text, need_three_texts, text_or_none
 from cancelsback.errors import InvalidChanges, InvalidDeeds, InvalidHistory, InvalidIndex, Refused
-from cancelsback.texts import word_of
-from cancelsback.words import struck, undone
+from cancelsback.texts import product_by_turns
 
 
 def front_length(one, other):
@@ -59,7 +58,7 @@ def clash_lines(base, mine, yours):
 def merge_word(base, mine, yours):
     """Mine, the base undone and yours as one struck word."""
     base, mine, yours = need_three_texts(base, mine, yours)
-    return struck(word_of(mine) + undone(word_of(base)) + word_of(yours))
+    return product_by_turns([mine, base, yours])
 
 
 def missing_base(mine, yours, came):

@@ -5,8 +5,7 @@ from cancelsback.checks import need_bases, need_text, need_told
 from cancelsback.errors import Refused
 from cancelsback.fronts import FrontNet, fair_ties, least_ties, wanted_ties, weighted_ties
 from cancelsback.subsets import StateWeb, comes_always, first_unlike
-from cancelsback.texts import word_of
-from cancelsback.words import struck, undone
+from cancelsback.texts import product_by_turns, word_of
 
 
 class TieRows:
@@ -20,26 +19,17 @@ class TieRows:
     def row_of_tie(self, begin, end):
         """Versions and undone bases by turns: as many bases as the tie weighs."""
         if (begin, end) not in self.known:
-            self.known[(begin, end)] = self.row_by_base(begin, end) or self.row_by_middle(begin, end)
+            self.known[(begin, end)] = self.find_row(begin, end)
         return self.known[(begin, end)]
 
-    def row_by_base(self, begin, end):
-        """The row if one base asks for this tie with its weight, else an empty one."""
+    def find_row(self, begin, end):
+        """The row by a base that asks for this tie with its weight: of least weights each tie has such a base."""
         weight = self.net.tied(begin, end)
         for base, cut, ahead, behind in self.wanted:
             if begin in behind and end in ahead and 1 + behind[begin] + ahead[end] == weight:
                 version = self.net.least_end(self.net.layers(begin, base[cut:])[-1])
                 row = self.row_of_run(begin, base[cut:], version)
                 return row + (self.net.fronts[version], base) + self.row_of_run(0, base[:cut], end)
-        return ()
-
-    def row_by_middle(self, begin, end):
-        """The row of two lighter ties that lead there over another front."""
-        weight = self.net.tied(begin, end)
-        for middle in range(len(self.net.fronts)):
-            one, other = self.net.tied(begin, middle), self.net.tied(middle, end)
-            if middle not in (begin, end) and one is not None and other is not None and one + other == weight:
-                return self.row_of_tie(begin, middle) + self.row_of_tie(middle, end)
         return ()
 
     def row_of_run(self, place, word, end):
@@ -69,12 +59,10 @@ def is_row_paper(versions, bases, text, row):
     """Whether any value is a row of versions and bases whose product is the text."""
     if not isinstance(row, tuple) or len(row) % 2 == 0:
         return False
-    word = ()
     for at, part in enumerate(row):
         if not is_text_paper(part) or part not in (bases if at % 2 else versions):
             return False
-        word = struck(word + (undone(word_of(part)) if at % 2 else word_of(part)))
-    return word == word_of(text)
+    return product_by_turns(row) == word_of(text)
 
 
 def ties_or_none(net, values, weighted):

@@ -4,8 +4,7 @@ from cancelsback.checks import is_integer, is_number_below, is_row_of, is_sequen
 from cancelsback.checks import text_or_none
 from cancelsback.errors import InvalidCells, InvalidSize, Refused
 from cancelsback.merges import end_length, front_length, merged
-from cancelsback.texts import text_of, word_of
-from cancelsback.words import struck, undone
+from cancelsback.texts import product_by_turns, text_of
 
 MOST_HANDS = 6
 MOST_BLOCKS = 3
@@ -120,11 +119,7 @@ def has_lone_hand(table):
 
 def way_product(texts, way):
     """The struck word that the way makes of the shown texts."""
-    word = ()
-    for at, place in enumerate(way):
-        part = word_of(texts[place])
-        word = word + (undone(part) if at % 2 else part)
-    return struck(word)
+    return product_by_turns([texts[place] for place in way])
 
 
 def known_ways(table):

@@ -1,7 +1,7 @@
 """Texts as words, and words as texts."""
 
 from cancelsback.checks import need_text
-from cancelsback.words import need_word, struck
+from cancelsback.words import need_word, struck, undone
 
 
 def word_of(text):
@@ -14,6 +14,15 @@ def text_of(word):
     if any([sign < 0 for _, sign in word]):
         return None
     return tuple([letter for letter, _ in word])
+
+
+def product_by_turns(texts):
+    """The struck word of the first text, the second one undone, the third one, and so on."""
+    word = []
+    for at, text in enumerate(texts):
+        part = word_of(text)
+        word.extend(undone(part) if at % 2 else part)
+    return struck(word)
 
 
 def text_word(text):

@@ -52,7 +52,8 @@ class PlansTest(Case):
             for plan in (None, (), [], 3, "version", [("version", 0)] * 21, [None] * 21):
                 self.refuses(InvalidPlan, -1, function, 2, plan)
             for step in (None, 0, "version", (), ("version",), ("version", 2), ("version", -1), ("version", True),
-                         ("merge", 0, 0), ("merge", 0, 0, 1), ("merge", 0, True, 0), ("told", ()), ("version", 0, 0)):
+                         ("merge", 0, 0), ("merge", 0, 0, 1), ("merge", 0, True, 0), ("told", ()), ("version", 0, 0),
+                         ("told", 0), (None, 0), ("told", 0, 0, 0)):
                 self.refuses(InvalidPlan, 1, function, 2, [("version", 1), step, step])
             self.refuses(InvalidPlan, 0, function, 2, [("merge", 0, 0, 0), None])
         for step in STRANGE:
@@ -251,7 +252,8 @@ class RoundsTest(Case):
         for value, holds in ((("clash", (1, 0, 1)), True), (("clash", (1, 0, 1, 0, 1)), True), (("clash", [0, 1, 0]), False),
                              (("clash", (0, 0, 1)), False), (("clash", (0, True, 0)), False), (("clash", (0, 2, 0)), False),
                              (("clash", (0, 1, 0, 1, 0, 1, 0)), False), (("clash", (0,)), False), (["clash", (0, 1, 0)], False),
-                             (("clash", (0, 1, 0), 0), False), (("clash", (-1, 0, 1)), False)):
+                             (("clash", (0, 1, 0), 0), False), (("clash", (-1, 0, 1)), False),
+                             (("clash", (0, 0, 0, 1, 0)), False), (("crash", (0, 1, 0)), False)):
             self.assertIs(rounds_hold(versions, value), holds, value)
         for value in STRANGE:
             self.assertIs(rounds_hold(versions, value), False)
@@ -287,6 +289,9 @@ class MarginsTest(Case):
     def test_undone_letters(self):
         self.assertEqual(margin_pairs([(1, 2), ()], (1, 0, 1)), (((), (1, 2)), ((1, 2), ()), ((2,), (1,))))
         self.assertEqual(margin_pairs([(1,)], (0, 0, 0)), (((), ()),))
+        self.assertEqual(margin_pairs([(), (1, 2), (5,), (3, 4)], (0, 1, 2, 3, 0)), (((1, 2), (3, 4)),))
+        self.assertEqual(margin_pairs([(), (1, 2, 3), (5, 6, 7)], (0, 1, 2)), (((1, 2, 3), ()),))
+        self.assertEqual(margin_pairs([(), (1, 2, 3), (5, 6, 7)], (2, 1, 0)), (((), (1, 2, 3)),))
         self.assertEqual(margin_pairs([(), ()], [0]), (((), ()),))
         self.assertEqual(margin_pairs([(1,), (2,), (3,)], (0, 1, 2)), ())
 

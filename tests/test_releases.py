@@ -142,6 +142,8 @@ class OverTest(Case):
             self.assertIs(over_holds(VERSIONS, base, text, value), holds, value)
         for value in STRANGE:
             self.assertIs(over_holds(VERSIONS, base, text, value), False)
+        self.assertIs(over_holds(VERSIONS, [()], (0, 1), ("row", ((0, 1),))), True)
+        self.assertIs(over_holds(VERSIONS, [()], (0, 1), ("row", ((0, 1), ()))), False)
 
     def test_bars_changed(self):
         base = [(0, 2, 1)]
@@ -154,8 +156,11 @@ class OverTest(Case):
                              (("bars", list(ties)), False), (("bars", ([(0,), (0, 2)], ties[1])), False),
                              (("bars", (((0,), [0, 2]), ties[1])), False), (("bars", ties + (((0,), (5,)),)), False),
                              (("bars", (((False,), (0, 2)), ties[1])), False), (("bars", ties, ties), False),
-                             (("bars", ties + (((0,), (0, 2), 1),)), False), (("bars", ties + (None,)), False)):
+                             (("bars", ties + (((0,), (0, 2), 1),)), False), (("bars", ties + (None,)), False),
+                             (("bar", ties), False)):
             self.assertIs(over_holds(VERSIONS, base, text, value), holds, value)
+        self.assertIs(over_holds(VERSIONS, base, (0, 2, 1), ("bars", ties)), False)
+        self.assertIs(over_holds(VERSIONS, base, (0, 2), ("bars", ties)), True)
 
     def test_wrong_values(self):
         functions = (over_paper, fewest_paper, lambda *three: over_holds(*three, None),
@@ -208,7 +213,8 @@ class FewestTest(Case):
         light = (((0, 2), (0,), 0), ((0, 2, 1), (0, 1), 1))
         more = weights + (((0,), (0, 2), 10 ** 30), ((0, 1), (0, 2, 1), 10 ** 30))
         for value, holds in (((row, weights), True), ((row, weights[::-1]), True), ((row, more), True), ((row, more[:3]), False),
-                             ((longer, weights), False), ((row, heavy), False), ((row, light), False),
+                             ((longer, weights), False), ((row, heavy), False), ((longer, heavy), False),
+                             ((((0, 1), (0, 1), (0, 2, 1)), weights), False), ((row, light), False),
                              ((row, ()), False), ((row, weights[:1]), False), ((row, weights + weights[:1]), False),
                              ([row, weights], False), ((row, list(weights)), False), ((row,), False),
                              ((row, weights, ()), False), ((row[:1], weights), False), ((row, None), False),
@@ -264,14 +270,15 @@ class RingsTest(Case):
         finite = ([(0,), (0, 0)], [(0, 0)])
         for value, holds in ((("finite", 3), True), (("finite", 2), False), (("finite", True), False), (["finite", 3], False),
                              (("finite",), False), (("finite", 3, 3), False), (("endless", (), (0,), ()), False),
-                             (("finite", "3"), False)):
+                             (("finite", "3"), False), (("many", 3), False)):
             self.assertIs(ring_holds(*finite, value), holds, value)
         endless = ([(0, 1), (0, 2, 1)], [(0, 1)])
         for value, holds in ((("endless", (0,), (2,), (1,)), True), (("endless", (0, 2), (2, 2), (2, 1)), True),
                              (("endless", (0,), (), (1,)), False), (("endless", (), (2,), (1,)), False),
                              (("endless", [0], (2,), (1,)), False), (("endless", (0,), (2,)), False),
                              (["endless", (0,), (2,), (1,)], False), (("finite", 2), False), (("endless", (0,), (1,), ()), False),
-                             (("endless", (0,), None, (1,)), False), (("endless", (0, 1), (3,), ()), False)):
+                             (("endless", (0,), None, (1,)), False), (("endless", (0, 1), (3,), ()), False),
+                             (("ring", (0,), (2,), (1,)), False)):
             self.assertIs(ring_holds(*endless, value), holds, value)
         one = ([(1,)], [])
         self.assertEqual(ring_paper(*one), ("finite", 1))
