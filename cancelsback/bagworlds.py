@@ -2,25 +2,25 @@
 
 from cancelsback.lattices import Lattice, less
 
-# Far more than any number that is met: bags are packed into one integer, to be added fast.
-DIGIT = 4294967296
+# So many times more than the numbers at the start can those be that are met in a search.
+GROWTH = 1000000
 
 
-def pack(numbers):
-    """The numbers as one integer; sums of packed ones are the packed sums."""
+def pack(numbers, digit):
+    """The numbers as one integer, to be added fast: sums of packed ones are the packed sums."""
     code = 0
     for number in numbers:
-        code = code * DIGIT + number
+        code = code * digit + number
     return code
 
 
-def unpack(code, many):
-    """The numbers of a packed row."""
+def unpack(code, many, digit):
+    """The numbers of a packed row, each nearer to 0 than half a digit."""
     numbers = []
     for _ in range(many):
-        number = (code + DIGIT // 2) % DIGIT - DIGIT // 2
+        number = (code + digit // 2) % digit - digit // 2
         numbers.append(number)
-        code = (code - number) // DIGIT
+        code = (code - number) // digit
     return tuple(numbers[::-1])
 
 
@@ -110,7 +110,8 @@ class BagSweep:
         self.nodes = []
         # Each difference of two bags is a step that can be put on to any third one.
         self.steps = {}
-        self.seen = {pack(world.tight_of(bag)): True for bag in world.bags}
+        self.digit = GROWTH * (1 + max([abs(number) for bag in world.bags for number in bag]))
+        self.seen = {pack(world.tight_of(bag), self.digit): True for bag in world.bags}
         self.waiting = list(range(len(world.bags)))
 
     def run(self):
@@ -144,7 +145,7 @@ class BagSweep:
 
     def take_in(self, node, tight):
         """Puts the new steps of this bag on to all bags."""
-        code = pack(tight)
+        code = pack(tight, self.digit)
         fresh = self.note_steps(node, code)
         self.tight_rows[tight] = node
         self.codes.append(code)
@@ -182,7 +183,7 @@ class BagSweep:
     def try_sum(self, mine, code, step):
         """Notes what comes of a bag with a step put on, unless a debt is too great."""
         self.seen[code] = True
-        numbers = unpack(code, self.world.letters - sum(self.world.is_free))
+        numbers = unpack(code, self.world.letters - sum(self.world.is_free), self.digit)
         if min(numbers) >= -self.world.debt:
             yours, base = self.steps[step]
             self.waiting.append(self.world.merge(base, mine, yours))

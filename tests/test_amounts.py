@@ -129,6 +129,21 @@ class BagsTest(Case):
                 self.assertIs(bags_bring(list(dict.fromkeys(bags)), text_bag(came, 3)), True)
         self.assertGreater(found, 100)
 
+    def test_what_comes_of_texts_comes_of_their_bags(self):
+        generator = random.Random(61)
+        tried = 0
+        for _ in range(300):
+            texts = list({tuple(generator.randrange(2) for _ in range(generator.randint(0, 4))) for _ in range(4)})
+            told = list(dict.fromkeys(text_bag(text, 2) for text in texts))
+            for _ in range(30):
+                came = merge_texts(*[generator.choice(texts) for _ in range(3)])
+                if came is not None and came not in texts and len(came) < 12:
+                    texts.append(came)
+            for text in texts:
+                tried += text_bag(text, 2) not in told
+                self.assertIs(bags_bring(told, text_bag(text, 2)), True)
+        self.assertGreater(tried, 100)
+
     def test_wrong_told_bags(self):
         functions = (lambda bags: bags_bring(bags, None), lambda bags: bag_history(bags, None), bags_form,
                      lambda bags: sums_reach(bags, None), lambda bags: lost_bags(bags, None),
@@ -274,6 +289,13 @@ class ComingTest(Case):
         told = [(0, 3, 0), (1, 3, 0), (0, 0, 1), (2, 1, 1)]
         for bag in product((0, 1, 2, 9), repeat=3):
             self.check_bag(told, bags_form(told), bag)
+
+    def test_far_greater_numbers(self):
+        far = 10 ** 12
+        told = [tuple(far * number for number in bag) for bag in THREE]
+        self.assertEqual(bags_form(told)[2], tuple((bag, ()) for bag in sorted(told)))
+        told = [(far, 0), (0, far), (far + 1, 1)]
+        self.check_bag(told, bags_form(told), (5 * far, 7))
 
     def test_like_steps_with_unlike_free_letters(self):
         told = [(1, 0, 2), (3, 0, 2), (0, 2, 0), (0, 1, 1)]

@@ -7,6 +7,7 @@ from cancelsback.errors import InvalidPlan, InvalidRow, InvalidSize, InvalidVers
 from cancelsback.histories import elder_fault, elder_plan, margin_pairs, need_plan, plan_counts, plan_rows, plan_texts
 from cancelsback.histories import plans_paper, rounds_hold, rounds_paper
 from cancelsback.merges import merge_texts
+from cancelsback.releases import over_paper
 from cancelsback.texts import text_word, word_text
 from cancelsback.words import join_words, undo_word
 from tests.support import Case, STRANGE, texts_to
@@ -185,6 +186,23 @@ class AlikeTest(Case):
         wide = [("version", number) for number in range(12)]
         self.check_paper(12, wide, wide[::-1])
 
+    def test_like_counts_and_a_merge_that_goes(self):
+        generator = random.Random(47)
+        found = 0
+        while found < 200:
+            many = generator.randint(2, 4)
+            plans = [random_plan(generator, many, 4) for _ in range(2)]
+            if plan_counts(many, plans[0])[-1] != plan_counts(many, plans[1])[-1]:
+                continue
+            for _ in range(10):
+                texts = [(0,) * generator.randint(0, 3) + (1,) * generator.randint(0, 3) for _ in range(many)]
+                ends = [texts_or_none(texts, plan) for plan in plans]
+                if None not in ends:
+                    one, other = ends[0][-1], ends[1][-1]
+                    self.assertEqual(len(one), len(other))
+                    self.assertEqual(merge_texts(other, one, one) is not None, one == other)
+                    found += 1
+
     def test_alike_by_force(self):
         for one, other in product(texts_to(3, 2), repeat=2):
             if len(one) == len(other) and one != other:
@@ -285,6 +303,15 @@ class MarginsTest(Case):
                                for one, other in pairs)
                 self.assertEqual(word_text(product_of(laid, row)) is not None, expected)
         self.assertEqual(set(kinds), {0, 1, 2})
+
+    def test_margins_bring_no_other_text(self):
+        generator = random.Random(48)
+        for _ in range(60):
+            texts = list({tuple(generator.randrange(2) for _ in range(generator.randint(0, 3))) for _ in range(3)})
+            front, back = [tuple(generator.randrange(2) for _ in range(generator.randint(0, 2))) for _ in range(2)]
+            laid = [front + text + back for text in texts]
+            for text in texts_to(4, 2):
+                self.assertEqual(over_paper(laid, laid, front + text + back)[0], over_paper(texts, texts, text)[0])
 
     def test_undone_letters(self):
         self.assertEqual(margin_pairs([(1, 2), ()], (1, 0, 1)), (((), (1, 2)), ((1, 2), ()), ((2,), (1,))))

@@ -5,7 +5,7 @@ import random
 from cancelsback.errors import InvalidBases, InvalidText, InvalidTexts, Refused
 from cancelsback.merges import merge_texts
 from cancelsback.releases import fewest_holds, fewest_paper, lost_text, over_holds, over_paper, ring_holds, ring_paper
-from cancelsback.texts import text_word
+from cancelsback.texts import text_word, word_text
 from cancelsback.words import join_words, undo_word
 from tests.support import Case, STRANGE, texts_to
 
@@ -28,6 +28,49 @@ def merged_costs(versions, bases, most):
                             costs[came] = cost
                             grown = True
     return costs
+
+
+def row_word(row):
+    """The struck word of the first text, the second one undone, and so on."""
+    word = ()
+    for at, part in enumerate(row):
+        word = join_words(word, undo_word(text_word(part)) if at % 2 else text_word(part))
+    return word
+
+
+def folded_reader(versions):
+    """Tells whether a text can come at all: beginnings are made one from both sides until none are left to be."""
+    fronts = {version[:cut]: version[:cut] for version in versions for cut in range(len(version) + 1)}
+    ties = [(front[:-1], front[-1], front) for front in fronts if front]
+
+    def join(one, other):
+        for front in fronts:
+            if fronts[front] == other:
+                fronts[front] = one
+
+    for version in versions:
+        join(fronts[versions[0]], fronts[version])
+    grown = True
+    while grown:
+        grown = False
+        for begin, letter, end in ties:
+            for from_front, other, to_front in ties:
+                alike = fronts[begin] == fronts[from_front], fronts[end] == fronts[to_front]
+                if letter == other and alike[0] != alike[1]:
+                    join(fronts[begin], fronts[from_front])
+                    join(fronts[end], fronts[to_front])
+                    grown = True
+
+    def reads(text):
+        place = fronts[()]
+        for letter in text:
+            places = {fronts[end] for begin, other, end in ties if fronts[begin] == place and other == letter}
+            if not places:
+                return False
+            place = places.pop()
+        return place == fronts[versions[0]]
+
+    return reads
 
 
 def random_lot(generator, most, length, letters):
@@ -57,12 +100,10 @@ def small_questions(seed, many):
 class OverTest(Case):
 
     def check_row(self, versions, bases, text, row):
-        word = ()
         for at, part in enumerate(row):
             self.assertIn(part, bases if at % 2 else versions)
-            word = join_words(word, undo_word(text_word(part)) if at % 2 else text_word(part))
         self.assertEqual(len(row) % 2, 1)
-        self.assertEqual(word, text_word(text))
+        self.assertEqual(row_word(row), text_word(text))
 
     def test_small_ones_by_trying(self):
         words = set()
@@ -111,15 +152,40 @@ class OverTest(Case):
         self.assertEqual(over_paper([()], [()], ()), ("row", ((),)))
         self.assertEqual(over_paper([()], [()], (1,)), ("bars", ()))
 
+    def test_rows_are_never_stuck(self):
+        generator = random.Random(64)
+        merged = 0
+        for _ in range(4000):
+            versions, bases, _ = random_question(generator)
+            row = [generator.choice(versions)]
+            while bases and len(row) < 7 and generator.random() < 0.8:
+                row = row + [generator.choice(bases), generator.choice(versions)]
+            text = word_text(row_word(row))
+            if text is None:
+                continue
+            self.assertEqual(over_paper(versions, bases, text)[0], "row")
+            while len(row) > 1:
+                clean = [at for at in range(1, len(row), 2) if merge_texts(row[at], row[at - 1], row[at + 1]) is not None]
+                self.assertTrue(clean)
+                at = generator.choice(clean)
+                row[at - 1:at + 2] = [merge_texts(row[at], row[at - 1], row[at + 1])]
+                merged += 1
+            self.assertEqual(row, [text])
+        self.assertGreater(merged, 500)
+
     def test_all_versions_as_bases(self):
         generator = random.Random(57)
+        words = set()
         for _ in range(150):
             versions, _, letters = random_question(generator)
-            for text in texts_to(3, letters):
-                comes = over_paper(versions, versions, text)[0] == "row"
-                if comes:
-                    # Any text that comes, taken as a base more, changes nothing of what comes.
-                    self.assertIsNone(lost_text(versions, list(dict.fromkeys(versions + [text])), versions))
+            reads = folded_reader(versions)
+            for text in texts_to(4, letters):
+                paper = over_paper(versions, versions, text)
+                words.add(paper[0])
+                self.assertEqual(paper[0] == "row", reads(text))
+            made = [text for text in texts_to(3, letters) if reads(text) and text not in versions][:2]
+            self.assertIsNone(lost_text(versions, versions + made, versions))
+        self.assertEqual(words, {"row", "bars"})
 
     def test_a_version_that_is_made_changes_nothing(self):
         for versions, bases, letters, costs in small_questions(58, 60):
