@@ -1,12 +1,16 @@
 """Beginnings of told versions, ties between them, and what leads along these."""
 
 
+def beginnings_of(texts):
+    """All beginnings of texts, the empty and the whole ones too, ascending."""
+    return sorted({text[:length]: True for text in texts for length in range(len(text) + 1)})
+
+
 class FrontNet:
     """The fronts of versions by number, with ties that have weights; what is not reached is left out."""
 
     def __init__(self, versions):
-        beginnings = {text[:length]: True for text in versions for length in range(len(text) + 1)}
-        self.fronts = sorted(beginnings)
+        self.fronts = beginnings_of(versions)
         self.numbers = {front: at for at, front in enumerate(self.fronts)}
         self.ends = [self.numbers[text] for text in versions]
         self.letters = sorted({text[-1] for text in self.fronts if text})

@@ -4,7 +4,7 @@ from cancelsback.checks import is_integer, is_number, is_text_paper, is_tuple_of
 from cancelsback.checks import need_bases, need_text, need_told
 from cancelsback.errors import Refused
 from cancelsback.fronts import FrontNet, fair_ties, least_ties, wanted_ties, weighted_ties
-from cancelsback.subsets import StateWeb, comes_always, first_unlike
+from cancelsback.subsets import comes_always, first_unlike, web_of_states
 from cancelsback.texts import product_by_turns, word_of
 
 
@@ -128,7 +128,7 @@ def fewest_holds(versions, bases, text, value):
 def ring_paper(versions, bases):
     """How many texts come, or a ring by which endlessly many do."""
     net = least_ties(need_told(versions), need_bases(bases))
-    web = StateWeb(net)
+    web = web_of_states(net)
     ring = web.ring_or_none()
     if ring is None:
         return "finite", web.text_count()
@@ -139,7 +139,7 @@ def ring_holds(versions, bases, value):
     """Whether any value tells how many texts come, or a ring by which endlessly many do."""
     net = least_ties(need_told(versions), need_bases(bases))
     if is_tuple_of(value, 2) and is_word(value[0], "finite") and is_integer(value[1]):
-        web = StateWeb(net)
+        web = web_of_states(net)
         return web.ring_or_none() is None and web.text_count() == value[1]
     if not is_tuple_of(value, 4) or not is_word(value[0], "endless"):
         return False

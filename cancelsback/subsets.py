@@ -1,5 +1,7 @@
 """What comes along the ties of a front net, with the fronts reached by a text taken together as one state."""
 
+from cancelsback.rings import MoveWeb
+
 
 def first_state(net):
     """The fronts that no letters lead to, ascending."""
@@ -23,68 +25,24 @@ def is_end_state(net, state):
     return any([end in state for end in net.ends])
 
 
-class StateWeb:
+def web_of_states(net):
     """The states that texts lead to, by number, of which each leads on to a version; empty if nothing comes."""
-
-    def __init__(self, net):
-        states = [first_state(net)]
-        numbers = {states[0]: 0}
-        moves = []
-        while len(moves) < len(states):
-            moved = {}
-            for letter in net.letters:
-                state = next_state(net, states[len(moves)], letter)
-                if state:
-                    if state not in numbers:
-                        numbers[state] = len(states)
-                        states.append(state)
-                    moved[letter] = numbers[state]
-            moves.append(moved)
-        self.are_ends = [is_end_state(net, state) for state in states]
-        useful = useful_states(moves, self.are_ends)
-        self.moves = [{letter: row[letter] for letter in row if useful[row[letter]]} for row in moves]
-
-    def shortest_text(self, begin, goals):
-        """The first text of one letter or more from a state to one of the goals, and this; None if there is none."""
-        reached = {}
-        waiting = [(begin, ())]
-        at = 0
-        while at < len(waiting):
-            place, text = waiting[at]
-            at += 1
-            for letter in sorted(self.moves[place]):
-                end = self.moves[place][letter]
-                if end in goals:
-                    return text + (letter,), end
-                if end not in reached:
-                    reached[end] = True
-                    waiting.append((end, text + (letter,)))
-        return None
-
-    def ring_or_none(self):
-        """Head, ring and tail of endlessly many texts, None if finitely many come."""
-        for place in range(len(self.moves)):
-            ring = self.shortest_text(place, (place,))
-            head = ((), 0) if place == 0 else self.shortest_text(0, (place,))
-            if ring is not None and head is not None:
-                return head[0], ring[0], self.tail_of(place)
-        return None
-
-    def tail_of(self, place):
-        """The first text that leads from a state to a version."""
-        if self.are_ends[place]:
-            return ()
-        return self.shortest_text(place, [end for end, is_end in enumerate(self.are_ends) if is_end])[0]
-
-    def text_count(self):
-        """How many texts come, where finitely many do."""
-        counts = {}
-        while 0 not in counts:
-            for place, row in enumerate(self.moves):
-                if place not in counts and all([row[letter] in counts for letter in row]):
-                    own = 1 if self.are_ends[place] else 0
-                    counts[place] = own + sum([counts[row[letter]] for letter in row])
-        return counts[0]
+    states = [first_state(net)]
+    numbers = {states[0]: 0}
+    moves = []
+    while len(moves) < len(states):
+        moved = {}
+        for letter in net.letters:
+            state = next_state(net, states[len(moves)], letter)
+            if state:
+                if state not in numbers:
+                    numbers[state] = len(states)
+                    states.append(state)
+                moved[letter] = numbers[state]
+        moves.append(moved)
+    are_ends = [is_end_state(net, state) for state in states]
+    useful = useful_states(moves, are_ends)
+    return MoveWeb([{letter: row[letter] for letter in row if useful[row[letter]]} for row in moves], are_ends)
 
 
 def useful_states(moves, are_ends):
