@@ -29,6 +29,47 @@ def holds_list(value):
     return isinstance(value, tuple) and any(holds_list(part) for part in value)
 
 
+def random_lot(generator, most, length, letters):
+    """Up to so many unlike texts."""
+    return list({tuple(generator.randrange(letters) for _ in range(generator.randint(0, length)))
+                 for _ in range(most)})
+
+
+def folded_reader(versions):
+    """Tells whether a text can come at all: beginnings are made one from both sides until none are left to be."""
+    fronts = {version[:cut]: version[:cut] for version in versions for cut in range(len(version) + 1)}
+    ties = [(front[:-1], front[-1], front) for front in fronts if front]
+
+    def join(one, other):
+        for front in fronts:
+            if fronts[front] == other:
+                fronts[front] = one
+
+    for version in versions:
+        join(fronts[versions[0]], fronts[version])
+    grown = True
+    while grown:
+        grown = False
+        for begin, letter, end in ties:
+            for from_front, other, to_front in ties:
+                alike = fronts[begin] == fronts[from_front], fronts[end] == fronts[to_front]
+                if letter == other and alike[0] != alike[1]:
+                    join(fronts[begin], fronts[from_front])
+                    join(fronts[end], fronts[to_front])
+                    grown = True
+
+    def reads(text):
+        place = fronts[()]
+        for letter in text:
+            places = {fronts[end] for begin, other, end in ties if fronts[begin] == place and other == letter}
+            if not places:
+                return False
+            place = places.pop()
+        return place == fronts[versions[0]]
+
+    return reads
+
+
 class Case(unittest.TestCase):
     """A test that asks for errors with what they keep."""
 

@@ -23,6 +23,31 @@ ROWS = {
     >>> pair_count((1, 2), (2,))
     5
     """,
+    "chapter 5": """
+    >>> from cancelsback.coming import closed_paper, coming_count, coming_holds, endless_paper, least_told, row_text
+    >>> history = (("told", (1, 2)), ("told", (1, 3, 2)), ("merge", 0, 1, 1))
+    >>> coming_holds([(1, 2), (1, 3, 2)], (1, 3, 3, 2), ("comes", history))
+    True
+    >>> row_text([(1, 2), (3, 2), (1, 4)], (1, 0, 2)), closed_paper([(1, 2), (3, 2), (1, 4)])
+    ((3, 4), ('adds', (0, 1, 2)))
+    >>> endless_paper([(1, 2), (3, 2), (1, 4)]), coming_count([(1, 2), (1, 3, 2)], 5), least_told(7)
+    (('finite', 4), 1, 5)
+    """,
+    "chapter 6": """
+    >>> from cancelsback.fewest import fewest_count, least_lot, lot_paper, needless_texts, stand_ins, version_row
+    >>> from cancelsback.webs import told_web
+    >>> web = told_web([(0, 1), (0, 2, 1), (0, 2, 2, 1)])
+    >>> fewest_count(web), least_lot(web), needless_texts([(0, 1), (0, 2, 1), (0, 2, 2, 1)])
+    (2, ((0, 1), (0, 2, 1)), ((0, 1), (0, 2, 2, 1)))
+    >>> lot_paper([(0,), (0, 0, 0)])[0], version_row([(0,), (0, 0)], (0, 0, 0)), stand_ins([(0,), (0, 0)], (0, 0, 0))
+    ('fewest', (1, 0, 1), (0,))
+    """,
+    "chapter 7": """
+    >>> from cancelsback.chains import chain_text, clean_bases
+    >>> chain = ((1, 2, 1), (1, 2, 2, 1), (1, 2, 1), (1, 1, 1, 1), (1, 2, 1), (1, 2, 2, 1), (1, 2, 1))
+    >>> chain_text(chain), clean_bases(chain)
+    ((), (1, 5))
+    """,
     "chapter 10": """
     >>> from cancelsback.histories import elder_fault, margin_pairs, plan_rows, plan_texts, rounds_paper
     >>> plan = [("version", 0), ("version", 1), ("merge", 0, 1, 1), ("merge", 1, 2, 0)]
@@ -32,6 +57,18 @@ ROWS = {
     ((), (((), (2,)),))
     >>> rounds_paper([(0, 1, 1, 2), (0, 1, 1, 1, 2)])
     ('block', (0,), (1,), (2,), (2, 3))
+    """,
+    "chapter 11": """
+    >>> from cancelsback.kept import barring_points, counts_paper, sum_rest
+    >>> from cancelsback.labels import Label, kept_label, settled_paper
+    >>> counts_paper([(0, 0), (1, 1)], (0, 1))[0], counts_paper([(0,), (1, 0)], (0, 1)), sum_rest([(0, 0), (1, 1)], (1, 3))
+    ('rest', ('counts', (1,)), (4, 2))
+    >>> barring_points([(0,), (1, 0)], (0, 1)) is None, barring_points([(0,), (1, 0)], (1, 1, 0)) is None
+    (False, True)
+    >>> settled_paper(Label([(1, 0), (0, 1)], [3, 5])), settled_paper(Label([(1, 0), (1, 1)], [0, 1]))[0]
+    (('group', (3, 5), ((3, 5), (5, 3))), 'unlike')
+    >>> kept_label(Label([(1, 0), (2, 0), (3, 0), (0, 0)], [0, 1, 0, 1])).moves
+    ((0, 0),)
     """,
     "chapter 12": """
     >>> from cancelsback.tables import ShownTable, cell_texts, table_count

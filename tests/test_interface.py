@@ -5,7 +5,12 @@ import importlib
 import inspect
 import unittest
 
+from cancelsback.branches import branch_paper
+from cancelsback.kept import barring_points
+from cancelsback.labels import Label
+from cancelsback.live import Live
 from cancelsback.tables import ShownTable
+from cancelsback.webs import Web, told_web
 from tests.support import as_lists, as_tuples, holds_list
 
 PLAN = (("version", 0), ("version", 1), ("merge", 0, 1, 1))
@@ -13,6 +18,11 @@ TOLD = ((0, 1), (0, 2, 1))
 BAGS = ((1, 1, 1), (3, 0, 0), (0, 3, 0))
 TABLE = ShownTable(2, 2, [(0, 0, (1, 2)), (1, 1, (2, 3))])
 WORD = ((0, 1), (1, 1), (1, -1))
+WEB = Web(3, [(0, 0, 1), (1, 2, 1), (1, 1, 2)], 0, 2)
+MACHINE = {"places": 3, "ties": ((0, 0, 1), (0, 0, 2), (1, 1, 1)), "start": 0, "ends": (2, 1)}
+HISTORY = (("told", (0, 1)), ("told", (0, 2, 1)), ("merge", 0, 1, 1))
+CHAIN = ((1, 2), (1,), (1, 1), (3,), (4,))
+LABEL = Label([(1, 0), (0, 1)], [3, 5])
 
 # For each function its parameters as the document calls them, and arguments with which it can be called. Where
 # the last parameter is called `value` it is a paper: it stays as it is told, lists stand for no tuples there.
@@ -68,6 +78,56 @@ CALLS = {
         "table_holds": {"table": TABLE, "value": ("goes", (((1, 2), (1, 2)), ((2, 3), (2, 3))))},
         "cell_texts": {"table": TABLE, "row": 1, "column": 0},
     },
+    "webs": {
+        "word_end": {"web": WEB, "place": 0, "word": ((0, 1), (2, -1))}, "reads_text": {"web": WEB, "text": (0, 2, 1)},
+        "plain_web": {"web": WEB}, "folded_web": MACHINE, "told_web": {"texts": TOLD}, "enough_texts": MACHINE,
+        "fold_steps": {"texts": TOLD}, "folds_hold": {"texts": ((0,), (1,)), "value": (((0,), (1,)),)},
+        "unlike_text": {"one": WEB, "other": told_web(TOLD[:1])},
+    },
+    "branches": {
+        "branch_text": {"texts": TOLD, "start": 0, "steps": (("front", 0, 1), ("back", 0, 0))},
+        "shortest_branch": {"texts": TOLD, "text": (0, 2, 2, 1)},
+        "branch_paper": {"texts": TOLD, "start": 0, "text": (0, 2, 2, 1)},
+        "branch_holds": {"texts": TOLD, "start": 0, "text": (0, 2, 2, 1), "value": branch_paper(TOLD, 0, (0, 2, 2, 1))},
+    },
+    "chains": {
+        "chain_text": {"chain": CHAIN}, "clean_bases": {"chain": CHAIN}, "merged_chain": {"chain": CHAIN, "place": 1},
+        "least_chain": {"chain": CHAIN},
+    },
+    "coming": {
+        "can_come": {"texts": TOLD, "text": (0, 2, 2, 1)}, "coming_paper": {"texts": TOLD, "text": (0, 2, 2, 1)},
+        "coming_holds": {"texts": TOLD, "text": (0, 2, 2, 1), "value": ("comes", HISTORY)},
+        "row_text": {"texts": TOLD, "row": (1, 0, 1)}, "more_paper": {"one": TOLD, "other": TOLD[:1]},
+        "least_apart": {"one": TOLD, "other": TOLD[:1]}, "closed_paper": {"texts": TOLD},
+        "coming_count": {"texts": TOLD, "length": 5}, "coming_rest": {"texts": TOLD, "length": 10 ** 18, "modulus": 7},
+        "endless_paper": {"texts": TOLD}, "endless_holds": {"texts": TOLD, "value": ("endless", (0,), (2,), (1,))},
+        "nth_coming": {"texts": TOLD, "number": 7}, "coming_place": {"texts": TOLD, "text": (0, 2, 2, 1)},
+        "least_told": {"number": 7}, "versions_bringing": {"number": 7},
+    },
+    "fewest": {
+        "fewest_count": {"web": WEB}, "first_ways": {"web": WEB}, "last_ways": {"web": WEB}, "least_lot": {"web": WEB},
+        "ear_texts": {"web": WEB, "texts": TOLD[:1]}, "needless_texts": {"texts": TOLD + ((0, 2, 2, 1),)},
+        "lot_paper": {"texts": TOLD + ((0, 2, 2, 1),)},
+        "lot_holds": {"texts": TOLD + ((0, 2, 2, 1),), "value": ("twice", (1, 0, 1), (2,))},
+        "version_row": {"texts": TOLD, "text": (0, 2, 2, 1)}, "stand_ins": {"texts": TOLD, "text": (0, 2, 2, 1)},
+    },
+    "kept": {
+        "counts_paper": {"texts": ((0, 0), (1, 1)), "text": (0, 1)},
+        "counts_hold": {"texts": TOLD, "text": (0, 2, 2, 1), "value": ("counts", (2,))},
+        "sum_rest": {"texts": TOLD, "weights": (1, 2, 3)}, "barring_points": {"texts": TOLD, "text": (1, 0)},
+        "bars_text": {"texts": TOLD, "text": (1, 0), "value": barring_points(TOLD, (1, 0))},
+    },
+    "labels": {
+        "settled_paper": {"label": LABEL}, "kept_label": {"label": LABEL},
+        "settled_holds": {"label": LABEL, "value": ("group", (3, 5), ((3, 5), (5, 3)))},
+    },
+}
+METHODS = {
+    Web: {"step_ahead": ["place", "letter"], "step_back": ["place", "letter"], "__eq__": ["other"]},
+    Label: {"mark_of": ["text"], "__eq__": ["other"]},
+    Live: {"tell_version": ["text"], "merge_made": ["base", "mine", "yours"], "release_version": ["number"],
+           "withdraw_base": ["number"], "still_comes": ["text"], "lost_by": ["number"], "undo_deed": [], "redo_deed": []},
+    ShownTable: {"__eq__": ["other"]},
 }
 REFUSED_PAIR = "pair_place"
 
@@ -86,7 +146,7 @@ def all_calls():
 
 
 def is_paper(name):
-    return name.endswith(("_hold", "_holds"))
+    return name.endswith(("_hold", "_holds")) or name == "bars_text"
 
 
 class InterfaceTest(unittest.TestCase):
@@ -129,6 +189,28 @@ class InterfaceTest(unittest.TestCase):
                 self.assertFalse(holds_list(result))
                 self.assertEqual(as_tuples(result), result)
 
+    def test_each_method_stands_in_its_class(self):
+        for kind, methods in METHODS.items():
+            for name, parameters in methods.items():
+                with self.subTest(kind.__name__ + "." + name):
+                    self.assertIn(name, vars(kind))
+                    self.assertEqual(list(inspect.signature(vars(kind)[name]).parameters), ["self"] + parameters)
+
+    def test_classes_are_made_by_names(self):
+        for kind, module, parameters in ((Web, "webs", ["places", "ties", "start", "end"]), (Live, "live", []),
+                                         (Label, "labels", ["moves", "marks"])):
+            self.assertEqual(kind.__module__, "cancelsback." + module)
+            self.assertEqual(list(inspect.signature(kind).parameters), parameters)
+        self.assertEqual(Web(end=2, ties=[list(tie) for tie in WEB.ties], start=0, places=3), WEB)
+        self.assertEqual(Label(marks=(3, 5), moves=[[1, 0], [0, 1]]), LABEL)
+        self.assertFalse(holds_list((WEB.ties, LABEL.moves, LABEL.marks)))
+        self.assertFalse(WEB == LABEL)
+
+    def test_calls_in_between_change_nothing(self):
+        first = [function_of(module, name)(*arguments.values()) for module, name, arguments in all_calls()]
+        again = [function_of(module, name)(*arguments.values()) for module, name, arguments in list(all_calls())[::-1]]
+        self.assertEqual(first, again[::-1])
+
     def test_the_table_class(self):
         self.assertEqual(ShownTable.__module__, "cancelsback.tables")
         self.assertEqual(list(inspect.signature(ShownTable).parameters), ["rows", "columns", "cells"])
@@ -139,7 +221,11 @@ class InterfaceTest(unittest.TestCase):
     def test_what_is_told_may_be_handed_on(self):
         for module, paper, holds in (("words", "strike_pairs", "strikes_hold"), ("histories", "rounds_paper", "rounds_hold"),
                                      ("releases", "over_paper", "over_holds"), ("releases", "fewest_paper", "fewest_holds"),
-                                     ("releases", "ring_paper", "ring_holds"), ("tables", "table_paper", "table_holds")):
+                                     ("releases", "ring_paper", "ring_holds"), ("tables", "table_paper", "table_holds"),
+                                     ("webs", "fold_steps", "folds_hold"), ("branches", "branch_paper", "branch_holds"),
+                                     ("coming", "coming_paper", "coming_holds"), ("kept", "barring_points", "bars_text"),
+                                     ("coming", "endless_paper", "endless_holds"), ("fewest", "lot_paper", "lot_holds"),
+                                     ("kept", "counts_paper", "counts_hold"), ("labels", "settled_paper", "settled_holds")):
             arguments = list(CALLS[module][paper].values())
             told = function_of(module, paper)(*arguments)
             self.assertIs(function_of(module, holds)(*arguments, told), True)

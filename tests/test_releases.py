@@ -7,7 +7,7 @@ from cancelsback.merges import merge_texts
 from cancelsback.releases import fewest_holds, fewest_paper, lost_text, over_holds, over_paper, ring_holds, ring_paper
 from cancelsback.texts import text_word, word_text
 from cancelsback.words import join_words, undo_word
-from tests.support import Case, STRANGE, texts_to
+from tests.support import Case, STRANGE, folded_reader, random_lot, texts_to
 
 VERSIONS = [(0, 1), (0, 2, 1)]
 
@@ -36,46 +36,6 @@ def row_word(row):
     for at, part in enumerate(row):
         word = join_words(word, undo_word(text_word(part)) if at % 2 else text_word(part))
     return word
-
-
-def folded_reader(versions):
-    """Tells whether a text can come at all: beginnings are made one from both sides until none are left to be."""
-    fronts = {version[:cut]: version[:cut] for version in versions for cut in range(len(version) + 1)}
-    ties = [(front[:-1], front[-1], front) for front in fronts if front]
-
-    def join(one, other):
-        for front in fronts:
-            if fronts[front] == other:
-                fronts[front] = one
-
-    for version in versions:
-        join(fronts[versions[0]], fronts[version])
-    grown = True
-    while grown:
-        grown = False
-        for begin, letter, end in ties:
-            for from_front, other, to_front in ties:
-                alike = fronts[begin] == fronts[from_front], fronts[end] == fronts[to_front]
-                if letter == other and alike[0] != alike[1]:
-                    join(fronts[begin], fronts[from_front])
-                    join(fronts[end], fronts[to_front])
-                    grown = True
-
-    def reads(text):
-        place = fronts[()]
-        for letter in text:
-            places = {fronts[end] for begin, other, end in ties if fronts[begin] == place and other == letter}
-            if not places:
-                return False
-            place = places.pop()
-        return place == fronts[versions[0]]
-
-    return reads
-
-
-def random_lot(generator, most, length, letters):
-    return list({tuple(generator.randrange(letters) for _ in range(generator.randint(0, length)))
-                 for _ in range(most)})
 
 
 def random_question(generator, most=3, length=3):
