@@ -272,6 +272,31 @@ class PaperTest(Case):
         self.assertIs(branch_holds(texts, 1, (1,), ((("front", 1, 0),), free)), False)
         self.assertIs(branch_holds(texts, 0, (1,), ((), free)), True)
 
+    def test_any_numbers_in_webs(self):
+        texts = [(1,), (2,)]
+        starts, ends, ties = ((7, 0),), ((8, 0),), ((7, 1, 8, 0), (7, 2, 8, 1))
+
+        def holds(*web):
+            return branch_holds(texts, 0, (1,), ((), web))
+
+        self.assertIs(holds(starts, ends, ties), True)
+        self.assertIs(holds(starts, ((3, 5),) + ends, ties), True)
+        self.assertIs(holds(((3, 5),) + starts, ends, ties), True)
+        self.assertIs(holds(starts, ends, ties + ((10 ** 7, 1, 10 ** 7, 0),)), True)
+        for wrong in ((True, 5), (-1, 5), (3, -1), (3, True), (3, None), (3,), (3, 5, 5), [3, 5], None):
+            self.assertIs(holds((wrong,) + starts, ends, ties), False)
+            self.assertIs(holds(starts, (wrong,) + ends, ties), False)
+        for wrong in ((7, 1, 8, 5), (7, 2, 8, 1), (7, 2, 8, 2), (9, 100, 9, 0), (9, 1, 9, True), (9, True, 9, 0),
+                      (9, -1, 9, 0), (9, 1, -9, 0), (9, 1, 9)):
+            self.assertIs(holds(starts, ends, tuple(sorted(ties + (wrong,)))), False)
+
+    def test_changes_of_changes(self):
+        for texts in ([(0, 1, 0, 0, 1, 1, 1), (0, 1), (0,)], [(1, 1, 1, 1, 0, 1), (1,), ()]):
+            for start in range(3):
+                web = branch_paper(texts, start, ())[1]
+                self.assertTrue(keeps(web, texts))
+                self.assertEqual(end_weight(web, texts[start], dict(web[0])), 0)
+
     def test_greatest(self):
         generator = random.Random(303)
         far = 0

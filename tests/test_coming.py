@@ -115,6 +115,7 @@ class ComingTest(Case):
                          (2, ("merge", 0, True, 1)), (2, ("merge", 0, 1, -1)), (2, ["merge", 0, 1, 1]),
                          (2, ("merge", 1, 0, 0)), (2, ("told", (1, 2)))):
             self.assertIs(coming_holds(TOLD, text, ("comes", history[:at] + (step,) + history[at + 1:])), False)
+        self.assertIs(coming_holds(TOLD, text, ("comes", (("told", text),))), False)
         for value in (("comes", history[:2]), ("comes", ()), ("comes", list(history)), ["comes", history],
                       ("comes", history, ()), ("never", history), ("comes", None), ("come", history), ("comes",)):
             self.assertIs(coming_holds(TOLD, text, value), False)
@@ -130,7 +131,7 @@ class ComingTest(Case):
         self.assertIs(coming_holds(TOLD, (1, 3, 2), ("never", web)), False)
         self.assertIs(coming_holds(TOLD, (2,), ("never", told_web([(1, 2)]))), False)
         self.assertIs(coming_holds(TOLD, (1, 2, 3), ("never", told_web(TOLD + [(1, 5, 2)]))), True)
-        for value in (("never", None), ("never", (web,)), ["never", web], ("never",), ("comes", web), web, ("never", web, web)):
+        for value in (("nope", web), ("never", None), ("never", (web,)), ["never", web], ("never",), ("comes", web), web, ("never", web, web)):
             self.assertIs(coming_holds(TOLD, (1,), value), False)
         for value in STRANGE:
             self.assertIs(coming_holds(TOLD, (1, 2), value), False)

@@ -257,7 +257,7 @@ class LotsTest(Case):
     def test_papers_changed(self):
         self.assertIs(lot_holds(FEW, ("fewest", told_web(FEW))), True)
         web = Web(2, [(0, 0, 1), (1, 0, 0)], 0, 1)
-        for value in (("fewest", web), ("fewest",), ["fewest", told_web(FEW)], ("fewest", None), told_web(FEW),
+        for value in (("few", told_web(FEW)), ("fewest", web), ("fewest",), ["fewest", told_web(FEW)], ("fewest", None), told_web(FEW),
                       ("twice", (0,), (1,)), ("twice", (0,), (0,)), ("fewest", told_web(FEW), ())):
             self.assertIs(lot_holds(FEW, value), False)
         self.assertIs(lot_holds(TOLD, ("fewest", WEB)), False)

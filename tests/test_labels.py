@@ -72,7 +72,7 @@ class LabelTest(Case):
         label = Label([[1, 0], [0, 1]], (3, 5))
         self.assertEqual((label.moves, label.marks), (((1, 0), (0, 1)), (3, 5)))
         self.assertEqual(label, Label(marks=[3, 5], moves=((1, 0), (0, 1))))
-        for other in (ONCE, Label([(1, 0), (0, 1)], [3, 6]), (label.moves, label.marks), None, 5):
+        for other in (ONCE, Label([(1, 0), (0, 1)], [3, 6]), Label([(1, 0), (1, 1)], [3, 5]), (label.moves, label.marks), None, 5):
             self.assertFalse(label == other)
             self.assertTrue(label != other)
         self.assertRaises(TypeError, iter, label)
@@ -165,6 +165,10 @@ class SettledTest(Case):
         self.assertEqual(settled_paper(Label([(0,), (1,)], [4, 5])), ("group", (4,), ((4,),)))
         self.assertEqual(settled_paper(ONCE)[0], "unlike")
         self.check_unlike(ONCE, *settled_paper(ONCE)[1:])
+        # What stands in front is settled nowhere, though what stands behind is.
+        ahead = Label([(1, 2), (0, 3), (2, 2), (3, 3)], [0, 1, 0, 1])
+        self.assertEqual(settled_paper(ahead)[0], "unlike")
+        self.check_unlike(ahead, *settled_paper(ahead)[1:])
 
     def test_groups_are_settled(self):
         for label in group_labels():
@@ -182,10 +186,12 @@ class SettledTest(Case):
         good = ("unlike", ((0,), (0, 0), ()), ((0,), (0,), ()))
         self.assertIs(settled_holds(ONCE, good), True)
         self.assertIs(settled_holds(ONCE, ("unlike", good[2], good[1])), True)
+        self.assertIs(settled_holds(ONCE, ("unlike", good[1], good[1])), False)
         self.assertIs(settled_holds(ONCE, ("unlike", ((0,), (0, 1, 0), (0,) * 20), ((0,), (0,), (0,)))), False)
         for one in (good[2], ((), (0,), ()), ((1,), (0,), ()), ((0,), [0, 0], ()), ((0,), (0, 0)), [(0,), (0, 0), ()],
                     ((0,), (0, 0), (), ()), ((0,), (2, 0), ()), ((0,), (False, 0), ()), None, ((0,), (0, 1), (1,))):
             self.assertIs(settled_holds(ONCE, ("unlike", one, good[2])), False)
+            self.assertIs(settled_holds(ONCE, ("unlike", good[2], one)), False)
         for value in STRANGE + (("unlike", good[1]), ("unlike", good[1], good[2], ()), ["unlike", good[1], good[2]], ONCE):
             self.assertIs(settled_holds(ONCE, value), False)
             self.assertIs(settled_holds(EVEN, value), False)

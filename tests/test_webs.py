@@ -79,7 +79,7 @@ class WebTest(Case):
     def test_equality(self):
         ties = [(0, 0, 1), (1, 0, 0)]
         web = Web(2, ties, 0, 1)
-        for other in (Web(2, ties, 1, 0), Web(2, ties, 0, 0), Web(2, ties[:1], 0, 1), Web(1, [], 0, 0)):
+        for other in (Web(2, ties, 1, 0), Web(2, ties, 0, 0), Web(2, ties, 1, 1), Web(2, ties[:1], 0, 1), Web(1, [], 0, 0)):
             self.assertFalse(web == other)
             self.assertTrue(web != other)
         for other in ((2, tuple(ties), 0, 1), None, "web", 2, object()):
@@ -252,6 +252,14 @@ class ToldTest(Case):
         self.assertIs(folds_hold([(0,)], (((0,), (0,)),)), False)
         self.assertIs(folds_hold([(0,), (1,)], (((0,), (1,)),)), True)
         self.assertIs(folds_hold([(0,), (1,)], (((0,), (2,)),)), False)
+        # Just one of both is told, the other one a beginning.
+        self.assertIs(folds_hold([(0,), (1,)], (((), (0,)),)), False)
+        self.assertIs(folds_hold([(0,), (1,)], (((0,), ()),)), False)
+        # They end with one letter, but what is ahead of it is not one.
+        self.assertIs(folds_hold([(0, 5, 9), (1, 5, 8)], (((0, 5, 9), (1, 5, 8)),)), True)
+        self.assertIs(folds_hold([(0, 5, 9), (1, 5, 8)], (((0, 5), (1, 5)),)), False)
+        # One step twice in place of two is as many.
+        self.assertIs(folds_hold([(0, 9), (1, 9)], (((0, 9), (1, 9)), ((0, 9), (1, 9)))), False)
         # The beginnings 0 and 1 are due behind 0 9 and 1 9, not ahead of them.
         good = (((0, 9), (1, 9)), ((0,), (1,)))
         self.assertIs(folds_hold([(0, 9), (1, 9)], good), True)
