@@ -118,11 +118,18 @@ def need_bases(values):
     return tuple([tuple(text) for text in values])
 
 
-def need_versions(values, least, most):
-    """So many versions as a tuple of texts, alike ones let."""
-    if not is_sequence(values) or len(values) < least or len(values) > most:
+def need_any_versions(values):
+    """One or more versions as a tuple of texts, alike ones let."""
+    if not is_sequence(values) or len(values) == 0:
         raise InvalidVersions(-1)
     at = first_wrong_text(values, True)
     if at is not None:
         raise InvalidVersions(at)
     return tuple([tuple(text) for text in values])
+
+
+def need_versions(values, least, most):
+    """So many versions as a tuple of texts, alike ones let."""
+    if not is_sequence(values) or len(values) < least or len(values) > most:
+        raise InvalidVersions(-1)
+    return need_any_versions(values)

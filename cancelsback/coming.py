@@ -3,6 +3,7 @@
 from cancelsback.checks import is_integer, is_number, is_text_paper, is_tuple_of, is_word
 from cancelsback.checks import need_text, need_told
 from cancelsback.errors import InvalidIndex, InvalidSize, Refused
+from cancelsback.foldings import TextFolding
 from cancelsback.histories import need_row, row_product
 from cancelsback.merges import merge_numbers, merged
 from cancelsback.rings import MoveWeb
@@ -25,7 +26,7 @@ def coming_paper(texts, text):
     texts, text = need_told(texts), need_text(text, -1)
     web = web_of_texts(texts)
     if is_read(web, text):
-        return "comes", RestTelling(texts).come_to(text)
+        return "comes", RestTelling(texts, TextFolding(texts, False).joined_fronts()).come_to(text)
     return "never", web
 
 

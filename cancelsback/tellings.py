@@ -1,6 +1,6 @@
 """Histories that tell told versions only and come to a text that their folded web reads."""
 
-from cancelsback.foldings import TextFolding
+from cancelsback.linkings import FrontClasses
 from cancelsback.merges import merged
 
 
@@ -34,10 +34,14 @@ class Telling:
 
 
 class RestTelling:
-    """A history in which beginnings that folding makes one come with one common rest behind each of them."""
+    """A history in which beginnings that are made one come with one common rest behind each of them.
 
-    def __init__(self, texts):
-        self.folded = TextFolding(texts, False)
+    The pairs made one are told in turn, each by folding or by a rule of links; a history from links of a distance or
+    more has merges that go at this distance.
+    """
+
+    def __init__(self, texts, joins):
+        self.joined = FrontClasses(texts)
         self.telling = Telling(texts)
         self.rests = {}
         for text in texts:
@@ -45,10 +49,10 @@ class RestTelling:
                 known = self.rests.get(text[:length])
                 if known is None or len(text) - length < len(known):
                     self.rests[text[:length]] = text[length:]
-        self.classes = {front: at for at, front in enumerate(self.folded.fronts)}
-        self.members = [[front] for front in self.folded.fronts]
-        for one, other in self.folded.joined_fronts():
+        for one, other in joins:
             self.join_fronts(one, other)
+        # For each class and letter one of its beginnings that goes on by this letter.
+        self.onward = {(self.joined.classes[front[:-1]], front[-1]): front[:-1] for front in self.joined.fronts[1:]}
 
     def join_fronts(self, one, other):
         """Gives the shorter of two rests to all beginnings that are one with either, by one merge each."""
@@ -57,22 +61,21 @@ class RestTelling:
         rest, old = self.rests[one], self.rests[other]
         base, mine = self.change_between(one, other)
         came = self.telling.merge_in(base, mine, one + rest)
-        gone = self.classes[other]
-        for front in self.members[gone]:
+        for front in self.joined.members[self.joined.classes[other]]:
             if front != other:
                 self.telling.merge_in(other + old, front + old, came)
             self.rests[front] = rest
-            self.classes[front] = self.classes[one]
-        self.members[self.classes[one]] = self.members[self.classes[one]] + self.members[gone]
+        self.joined.join(one, other)
 
     def change_between(self, one, other):
         """Two texts that come, with one end behind the two beginnings, or behind what one letter leads to them from."""
-        if one in self.folded.texts and other in self.folded.texts:
+        if one in self.joined.texts and other in self.joined.texts:
             return one, other
-        if one and other and one[-1] == other[-1] and self.classes[one[:-1]] == self.classes[other[:-1]]:
+        if one and other and one[-1] == other[-1] and self.joined.are_one(one[:-1], other[:-1]):
             return self.end_behind(one[:-1]), self.end_behind(other[:-1])
-        longer = [front for front in self.folded.fronts if front and front[:-1] == one]
-        letters = [front[-1] for front in longer if self.classes[front] == self.classes.get(other + front[-1:])]
+        classes = self.joined.classes
+        longer = [front for front in self.joined.fronts if front and front[:-1] == one]
+        letters = [front[-1] for front in longer if classes[front] == classes.get(other + front[-1:])]
         return self.end_behind(one + (letters[0],)), self.end_behind(other + (letters[0],))
 
     def end_behind(self, front):
@@ -80,7 +83,7 @@ class RestTelling:
         return front + self.rests[front]
 
     def come_to(self, text):
-        """The history of a text that the folded web reads."""
+        """The history of a text to which letters lead along what is made one."""
         pairs = self.fronts_along(text)
         came = pairs[-1][0]
         for at in range(len(text) - 1, -1, -1):
@@ -90,11 +93,11 @@ class RestTelling:
 
     def fronts_along(self, text):
         """For each length: the beginning reached by its letters, and one that is one with it and goes on."""
-        points = self.folded.points
         pairs = []
         here = ()
         for letter in text:
-            own, far = points.sides[0][self.folded.root_of(here)][letter]
-            pairs.append((here, self.folded.fronts[own]))
-            here = self.folded.fronts[far]
+            goes_on = here + (letter,) in self.joined.classes
+            own = here if goes_on else self.onward[(self.joined.classes[here], letter)]
+            pairs.append((here, own))
+            here = own + (letter,)
         return pairs + [(here, here)]

@@ -70,6 +70,47 @@ def folded_reader(versions):
     return reads
 
 
+def linked_classes(versions, links, distance):
+    """For each beginning its class by links of the distance or more."""
+    classes = {version[:cut]: version[:cut] for version in versions for cut in range(len(version) + 1)}
+    for one, other, number in links:
+        if number >= distance:
+            kept, gone = classes[one], classes[other]
+            classes = {front: kept if classes[front] == gone else classes[front] for front in classes}
+    return classes
+
+
+def leads_at(versions, links, distance, text):
+    """Whether the text goes letter by letter, at any time also along links of the distance or more."""
+    classes = linked_classes(versions, links, distance)
+    places = {classes[()]}
+    for letter in text:
+        places = {classes[front] for front in classes if front and front[-1] == letter and classes[front[:-1]] in places}
+    return any(classes[version] in places for version in versions)
+
+
+def come_at(versions, distance, most, limit):
+    """What comes by merges that go at the distance, one after another, no text longer than the most; None if many."""
+    found = {version: True for version in versions}
+    fresh = list(found)
+    while fresh and len(found) <= limit:
+        came = {}
+        for base in found:
+            for mine in found:
+                alike = 0
+                while alike < min(len(base), len(mine)) and base[-1 - alike] == mine[-1 - alike]:
+                    alike += 1
+                for yours in found:
+                    front = 0
+                    while front < min(len(base), len(yours)) and base[front] == yours[front]:
+                        front += 1
+                    if alike + front - len(base) >= distance and len(mine) + len(yours) - len(base) <= most:
+                        came[mine[:len(mine) - alike] + yours[len(base) - alike:]] = True
+        fresh = [text for text in came if text not in found]
+        found.update(came)
+    return None if len(found) > limit else found
+
+
 class Case(unittest.TestCase):
     """A test that asks for errors with what they keep."""
 

@@ -48,6 +48,13 @@ ROWS = {
     >>> chain_text(chain), clean_bases(chain)
     ((), (1, 5))
     """,
+    "chapter 9": """
+    >>> from cancelsback.sides import alike_paper, both_count, both_sides
+    >>> both_sides((0,), (0, 1), (2, 0)), both_count((0, 1), (0, 2, 1), 3, 4)
+    ((None, (2, 0, 1)), 9)
+    >>> alike_paper((0, 1), (0, 1, 1), (0, 1, 1))
+    ('block', (0,), (1,), (), (1, 2, 2))
+    """,
     "chapter 10": """
     >>> from cancelsback.histories import elder_fault, margin_pairs, plan_rows, plan_texts, rounds_paper
     >>> plan = [("version", 0), ("version", 1), ("merge", 0, 1, 1), ("merge", 1, 2, 0)]
@@ -94,6 +101,10 @@ ROWS = {
     ((0, 2, 1), (0, 1), (0, 2, 1))
     >>> ring_paper([(0,), (0, 0)], [(0, 0)]), lost_text([(0,), (0, 0)], [(0,), (0, 0)], [(0, 0)])
     (('finite', 3), (0, 0, 0))
+    >>> from cancelsback.desk import Desk
+    >>> desk = Desk()
+    >>> [desk.say(word) for word in ("start", "tell 0", "tell 0 0", "release 0", "comes 0 0 0", "lost 0", "merge 0 1 1")]
+    ['none', '0', '1', 'done', 'yes', '0 0 0', '2']
     """,
 }
 

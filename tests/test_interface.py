@@ -6,6 +6,8 @@ import inspect
 import unittest
 
 from cancelsback.branches import branch_paper
+from cancelsback.desk import Desk
+from cancelsback.distances import front_links
 from cancelsback.kept import barring_points
 from cancelsback.labels import Label
 from cancelsback.live import Live
@@ -121,13 +123,36 @@ CALLS = {
         "settled_paper": {"label": LABEL}, "kept_label": {"label": LABEL},
         "settled_holds": {"label": LABEL, "value": ("group", (3, 5), ((3, 5), (5, 3)))},
     },
+    "sides": {
+        "both_sides": {"base": (0,), "mine": (0, 1), "yours": (2, 0)},
+        "block_form": {"one": (0, 1, 2), "other": (0, 1, 1, 2)},
+        "alike_paper": {"base": (0, 1), "mine": (0, 1, 1), "yours": (0, 1, 1)},
+        "alike_holds": {"base": (), "mine": (1,), "yours": (1, 1), "value": ("block", (), (1,), (), (0, 1, 2))},
+        "exchanged_parts": {"one": (0, 1, 2), "other": (2, 1, 0)}, "sides_paper": {"one": (0, 1, 2), "other": (2, 1, 0)},
+        "sides_holds": {"one": (0, 1), "other": (1, 0), "value": ("merge", (), (0,), (1,))},
+        "hands_end": {"base": (1,), "versions": ((1, 2), (3, 1)), "order": (0, 1)},
+        "orders_paper": {"base": (1,), "versions": ((1, 2), (1, 3))},
+        "orders_holds": {"base": (1,), "versions": ((1, 2), (1, 1)), "value": ("apart", (0, 1), (1, 0))},
+        "both_count": {"base": (0, 1), "mine": (0, 2, 1), "letters": 3, "length": 4},
+        "nth_both": {"base": (0, 1), "mine": (0, 2, 1), "letters": 3, "length": 4, "index": 5},
+        "alike_yours": {"base": (1, 1), "mine": (1,), "length": 5},
+    },
+    "checker": {
+        "sheet_holds": {"value": ("lot", (TOLD,), ("fewest", told_web(TOLD)))},
+        "make_sheet": {"word": "comes", "question": (TOLD, (0, 2, 2, 1))}, "wrong_sheets": {"values": (None, (1, 2), 3)},
+    },
+    "distances": {
+        "merge_reach": {"base": (1, 2, 3), "mine": (4, 2, 3), "yours": (1, 2, 5)},
+        "chain_reach": {"chain": ((4, 2, 3), (1, 2, 3), (1, 2, 5))}, "window_texts": {"versions": TOLD, "distance": 1},
+        "front_links": {"texts": TOLD}, "links_hold": {"texts": TOLD, "value": front_links(TOLD)},
+    },
 }
 METHODS = {
     Web: {"step_ahead": ["place", "letter"], "step_back": ["place", "letter"], "__eq__": ["other"]},
     Label: {"mark_of": ["text"], "__eq__": ["other"]},
     Live: {"tell_version": ["text"], "merge_made": ["base", "mine", "yours"], "release_version": ["number"],
            "withdraw_base": ["number"], "still_comes": ["text"], "lost_by": ["number"], "undo_deed": [], "redo_deed": []},
-    ShownTable: {"__eq__": ["other"]},
+    ShownTable: {"__eq__": ["other"]}, Desk: {"say": ["command"]},
 }
 REFUSED_PAIR = "pair_place"
 
@@ -197,7 +222,7 @@ class InterfaceTest(unittest.TestCase):
                     self.assertEqual(list(inspect.signature(vars(kind)[name]).parameters), ["self"] + parameters)
 
     def test_classes_are_made_by_names(self):
-        for kind, module, parameters in ((Web, "webs", ["places", "ties", "start", "end"]), (Live, "live", []),
+        for kind, module, parameters in ((Web, "webs", ["places", "ties", "start", "end"]), (Live, "live", []), (Desk, "desk", []),
                                          (Label, "labels", ["moves", "marks"])):
             self.assertEqual(kind.__module__, "cancelsback." + module)
             self.assertEqual(list(inspect.signature(kind).parameters), parameters)
@@ -225,7 +250,9 @@ class InterfaceTest(unittest.TestCase):
                                      ("webs", "fold_steps", "folds_hold"), ("branches", "branch_paper", "branch_holds"),
                                      ("coming", "coming_paper", "coming_holds"), ("kept", "barring_points", "bars_text"),
                                      ("coming", "endless_paper", "endless_holds"), ("fewest", "lot_paper", "lot_holds"),
-                                     ("kept", "counts_paper", "counts_hold"), ("labels", "settled_paper", "settled_holds")):
+                                     ("kept", "counts_paper", "counts_hold"), ("labels", "settled_paper", "settled_holds"),
+                                     ("sides", "alike_paper", "alike_holds"), ("sides", "sides_paper", "sides_holds"),
+                                     ("sides", "orders_paper", "orders_holds"), ("distances", "front_links", "links_hold")):
             arguments = list(CALLS[module][paper].values())
             told = function_of(module, paper)(*arguments)
             self.assertIs(function_of(module, holds)(*arguments, told), True)
