@@ -44,9 +44,15 @@ ROWS = {
     """,
     "chapter 7": """
     >>> from cancelsback.chains import chain_text, clean_bases
+    >>> from cancelsback.levels import branch_begins, order_count
     >>> chain = ((1, 2, 1), (1, 2, 2, 1), (1, 2, 1), (1, 1, 1, 1), (1, 2, 1), (1, 2, 2, 1), (1, 2, 1))
-    >>> chain_text(chain), clean_bases(chain)
-    ((), (1, 5))
+    >>> chain_text(chain), clean_bases(chain), order_count(chain), branch_begins(chain)
+    ((), (1, 5), 2, ())
+    """,
+    "chapter 8": """
+    >>> from cancelsback.apart import fewest_apart
+    >>> fewest_apart([(1, 2, 3), (4, 2, 3), (1, 2, 5), (4, 2, 5)])
+    (3, 3, 4, 4)
     """,
     "chapter 9": """
     >>> from cancelsback.sides import alike_paper, both_count, both_sides

@@ -10,7 +10,9 @@ from cancelsback.desk import Desk
 from cancelsback.distances import front_links
 from cancelsback.kept import barring_points
 from cancelsback.labels import Label
+from cancelsback.levels import nth_order
 from cancelsback.live import Live
+from cancelsback.reaches import reach_paper
 from cancelsback.tables import ShownTable
 from cancelsback.webs import Web, told_web
 from tests.support import as_lists, as_tuples, holds_list
@@ -23,7 +25,7 @@ WORD = ((0, 1), (1, 1), (1, -1))
 WEB = Web(3, [(0, 0, 1), (1, 2, 1), (1, 1, 2)], 0, 2)
 MACHINE = {"places": 3, "ties": ((0, 0, 1), (0, 0, 2), (1, 1, 1)), "start": 0, "ends": (2, 1)}
 HISTORY = (("told", (0, 1)), ("told", (0, 2, 1)), ("merge", 0, 1, 1))
-CHAIN = ((1, 2), (1,), (1, 1), (3,), (4,))
+CHAIN = ((1, 2), (1,), (1, 1), (1,), (1, 4))
 LABEL = Label([(1, 0), (0, 1)], [3, 5])
 
 # For each function its parameters as the document calls them, and arguments with which it can be called. Where
@@ -146,6 +148,24 @@ CALLS = {
         "chain_reach": {"chain": ((4, 2, 3), (1, 2, 3), (1, 2, 5))}, "window_texts": {"versions": TOLD, "distance": 1},
         "front_links": {"texts": TOLD}, "links_hold": {"texts": TOLD, "value": front_links(TOLD)},
     },
+    "levels": {
+        "order_count": {"chain": CHAIN}, "nth_order": {"chain": CHAIN, "number": 0},
+        "order_place": {"chain": CHAIN, "order": nth_order(CHAIN, 0)}, "last_bases": {"chain": CHAIN},
+        "least_rounds": {"chain": CHAIN}, "branch_begins": {"chain": CHAIN},
+    },
+    "logs": {
+        "needed_texts": {"texts": TOLD, "came": (0, 2, 2, 1)}, "bringing_lots": {"texts": TOLD, "came": (0, 2, 2, 1)},
+        "lots_lengths": {"many": 3, "lots": ((0, 1), (1, 2))}, "joined_webs": {"web": WEB}, "fewest_hidden": {"texts": TOLD},
+        "least_format": {"good": TOLD, "bad": ((0,), (1, 0))},
+    },
+    "reaches": {
+        "text_reach": {"texts": TOLD, "text": (0, 2, 2, 1)}, "reach_paper": {"texts": TOLD, "text": (0, 2, 2, 1)},
+        "reach_holds": {"texts": TOLD, "text": (0, 2, 2, 1), "value": reach_paper(TOLD, (0, 2, 2, 1))},
+    },
+    "apart": {
+        "fewest_apart": {"texts": TOLD}, "apart_lot": {"texts": TOLD, "distance": 1},
+        "rising_texts": {"distance": 1, "many": 5}, "reach_steps": {"texts": TOLD}, "ring_apart": {"texts": TOLD},
+    },
 }
 METHODS = {
     Web: {"step_ahead": ["place", "letter"], "step_back": ["place", "letter"], "__eq__": ["other"]},
@@ -252,7 +272,8 @@ class InterfaceTest(unittest.TestCase):
                                      ("coming", "endless_paper", "endless_holds"), ("fewest", "lot_paper", "lot_holds"),
                                      ("kept", "counts_paper", "counts_hold"), ("labels", "settled_paper", "settled_holds"),
                                      ("sides", "alike_paper", "alike_holds"), ("sides", "sides_paper", "sides_holds"),
-                                     ("sides", "orders_paper", "orders_holds"), ("distances", "front_links", "links_hold")):
+                                     ("sides", "orders_paper", "orders_holds"), ("distances", "front_links", "links_hold"),
+                                     ("reaches", "reach_paper", "reach_holds")):
             arguments = list(CALLS[module][paper].values())
             told = function_of(module, paper)(*arguments)
             self.assertIs(function_of(module, holds)(*arguments, told), True)
