@@ -26,7 +26,7 @@ def apart_lot(texts, distance):
     texts = need_told(texts)
     need_distance(distance)
     web = LinkedWeb(texts, links_of(texts), distance)
-    return shorter_first(lot_along(web.start, web.ties(), web.ends))
+    return shorter_first(lot_along(web.start, web.linked_ties(), web.ends))
 
 
 def rising_texts(distance, many):

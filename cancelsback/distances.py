@@ -102,5 +102,5 @@ def links_hold(texts, value):
             level = distance
         if distance > level or classes.are_one(one, other) or not classes.is_due(one, other, distance):
             return False
-        classes.join(one, other)
+        classes.make_one(one, other)
     return not classes.pairs_due(0)

@@ -22,7 +22,7 @@ class FrontClasses:
         """Whether two beginnings are one."""
         return self.classes[one] == self.classes[other]
 
-    def join(self, one, other):
+    def make_one(self, one, other):
         """Makes two beginnings one: the other one's class goes; whether they were not one yet."""
         kept, gone = self.classes[one], self.classes[other]
         if kept == gone:
@@ -85,7 +85,7 @@ def links_of(texts):
         pairs = classes.pairs_due(distance)
         while pairs:
             for one, other in pairs:
-                if classes.join(one, other):
+                if classes.make_one(one, other):
                     links.append((one, other, distance))
             pairs = classes.pairs_due(distance)
     return tuple(links)
@@ -110,7 +110,7 @@ def are_fair(texts, links):
     for distance in sorted(set(numbers))[::-1]:
         for one, other, number in links:
             if number == distance:
-                classes.join(one, other)
+                classes.make_one(one, other)
         if classes.pairs_due(distance):
             return False
     return True
@@ -123,7 +123,7 @@ class LinkedWeb:
         self.joined = FrontClasses(texts)
         for one, other, number in links:
             if number >= distance:
-                self.joined.join(one, other)
+                self.joined.make_one(one, other)
         self.start = self.joined.classes[()]
         ends = [self.joined.classes[text] for text in texts]
         self.ends = sorted(set(ends))
@@ -132,7 +132,7 @@ class LinkedWeb:
             begin = self.joined.classes[front[:-1]]
             self.moves[(begin, front[-1])] = self.joined.classes[front]
 
-    def ties(self):
+    def linked_ties(self):
         """The ties (place, letter, place), ascending."""
         return sorted([(begin, letter, self.moves[(begin, letter)]) for begin, letter in self.moves])
 

@@ -65,7 +65,7 @@ class RestTelling:
             if front != other:
                 self.telling.merge_in(other + old, front + old, came)
             self.rests[front] = rest
-        self.joined.join(one, other)
+        self.joined.make_one(one, other)
 
     def change_between(self, one, other):
         """Two texts that come, with one end behind the two beginnings, or behind what one letter leads to them from."""

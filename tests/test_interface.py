@@ -5,6 +5,7 @@ import importlib
 import inspect
 import unittest
 
+from cancelsback import errors
 from cancelsback.branches import branch_paper
 from cancelsback.desk import Desk
 from cancelsback.distances import front_links
@@ -167,6 +168,10 @@ CALLS = {
         "rising_texts": {"distance": 1, "many": 5}, "reach_steps": {"texts": TOLD}, "ring_apart": {"texts": TOLD},
     },
 }
+# Values of every kind, few of which are what any function is called with.
+ANY_VALUES = (None, True, False, -1, 0, 5, "", "told", "ab", (), [], ((),), [[]], (None,), [True], (0, 0), ((0, 1), (0, 1)),
+              (("told", (0,)),), [("front", (0,), [])], (("merge", 0, 0, 0),), ("comes", ()), ((0, 1, 0),), (-1, 1),
+              ((0, 1), "x"), (WEB,), WEB, LABEL, TABLE, Live(), Desk(), ("never", WEB), ((((((((((((),),),),),),),),),),),))
 METHODS = {
     Web: {"step_ahead": ["place", "letter"], "step_back": ["place", "letter"], "__eq__": ["other"]},
     Label: {"mark_of": ["text"], "__eq__": ["other"]},
@@ -233,6 +238,25 @@ class InterfaceTest(unittest.TestCase):
                                                       for word, value in arguments.items()})
                 self.assertFalse(holds_list(result))
                 self.assertEqual(as_tuples(result), result)
+
+    def test_any_values_raise_errors_of_the_package_only(self):
+        told = 0
+        for module, name, arguments in all_calls():
+            for parameter in arguments:
+                if parameter == "label":
+                    continue
+                for value in ANY_VALUES:
+                    values = dict(arguments, **{parameter: value})
+                    before = repr(value)
+                    with self.subTest(name=name, parameter=parameter, value=before):
+                        try:
+                            self.assertFalse(holds_list(function_of(module, name)(**values)))
+                        except errors.MergeError as error:
+                            self.assertEqual(type(error).__bases__, (errors.MergeError,))
+                            self.assertEqual(len(vars(error)), 1)
+                            told += 1
+                        self.assertEqual(repr(value), before)
+        self.assertGreater(told, 1000)
 
     def test_each_method_stands_in_its_class(self):
         for kind, methods in METHODS.items():

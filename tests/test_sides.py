@@ -328,6 +328,17 @@ class SidesTest(Case):
                          if None not in both_sides(base, mine, yours) and len(set(both_sides(base, mine, yours))) == 1]
                 self.assertEqual(alike_yours(base, mine, length), tuple(alike))
 
+    def test_when_both_sides_go(self):
+        for base, mine, yours in product(SMALL, repeat=3):
+            end, front = 0, 0
+            while end < min(len(base), len(mine)) and base[len(base) - 1 - end] == mine[len(mine) - 1 - end]:
+                end += 1
+            while front < min(len(base), len(mine)) and base[front] == mine[front]:
+                front += 1
+            ahead, behind = base[:len(base) - end], base[front:]
+            goes = yours[:len(ahead)] == ahead and yours[max(0, len(yours) - len(behind)):] == behind
+            self.assertEqual(None not in both_sides(base, mine, yours), goes)
+
     def test_yours_of_great_length(self):
         self.assertEqual(both_count((), (5,), 100, 60), 100 ** 60)
         self.assertEqual(nth_both((), (5,), 100, 60, 100 ** 60 - 1), (99,) * 60)
