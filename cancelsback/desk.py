@@ -25,11 +25,9 @@ def need_numbers(words):
 
 
 def need_text_told(words):
-    """The letters that the words tell, one or more of them, or the word for none."""
+    """The letters that the words, one or more, tell."""
     if words == ["empty"]:
         return ()
-    if not words:
-        raise InvalidCommand()
     return need_numbers(words)
 
 

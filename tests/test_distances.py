@@ -198,18 +198,24 @@ class DistancesTest(Case):
     def test_any_links_by_the_words(self):
         generator = random.Random(321)
         held = 0
-        for _ in range(80):
-            texts = random_lot(generator, 3, 2, 2)
+        for at in range(400):
+            texts = random_lot(generator, 3, 3, 2)
             links = list(links_by_chance(texts, generator))
-            generator.shuffle(links)
-            classes = {text[:cut]: text[:cut] for text in texts for cut in range(len(text) + 1)}
+            if at % 2:
+                generator.shuffle(links)
+            else:
+                fronts = sorted({text[:cut] for text in texts for cut in range(len(text) + 1)})
+                number = generator.randrange(len(links) + 1)
+                links[number:number + 1] = [(generator.choice(fronts), generator.choice(fronts), link[2])
+                                            for link in links[number:number + 1]]
             right = True
-            for one, other, distance in links:
-                above = [at for at in range(4, -1, -1) if due_pairs(texts, classes, at)]
-                right = right and bool(above) and distance == above[0]
-                right = right and (one, other) in due_pairs(texts, classes, distance)
-                gone = classes[other]
-                classes = {front: classes[one] if classes[front] == gone else classes[front] for front in classes}
+            for number, (one, other, distance) in enumerate(links):
+                classes = linked_classes(texts, links[:number], 0)
+                due = {at: [pair for pair in due_pairs(texts, linked_classes(texts, links[:number], at), at)
+                            if classes[pair[0]] != classes[pair[1]]] for at in range(5)}
+                above = [at for at in range(4, -1, -1) if due[at]]
+                right = right and bool(above) and distance == above[0] and (one, other) in due[distance]
+            right = right and not due_pairs(texts, linked_classes(texts, links, 0), 0)
             self.assertIs(links_hold(texts, tuple(links)), right)
             held += right
         self.assertGreater(held, 10)

@@ -45,6 +45,11 @@ def are_fair(texts, links):
     return not any(due_pairs(texts, linked_classes(texts, links, number), number) for number in numbers)
 
 
+def told_changed(history, step):
+    """The history with another first step."""
+    return (step,) + history[1:]
+
+
 def filled(text, fillers):
     return tuple(letter for line in text for letter in (9,) * fillers + (line,)) + (9,) * fillers
 
@@ -145,7 +150,14 @@ class ReachesTest(Case):
                       (1, history, links + (((), [], 1),)), (1, history, links + (((7,), (), 0),)),
                       (1, history, (list(links[0]),) + links[1:]), (1, history + (("told", text),), links),
                       (1, (("told", (4, 2, 5)),), links), (1, None, links), (1, history, None),
-                      (1, history[:-1] + (list(history[-1]),), links), (10 ** 20, history, links)) + STRANGE:
+                      (1, history[:-1] + (list(history[-1]),), links), (10 ** 20, history, links),
+                      (1, told_changed(history, ["told", history[0][1]]), links),
+                      (1, told_changed(history, history[0] + (0,)), links),
+                      (1, told_changed(history, ("tell", history[0][1])), links),
+                      (1, told_changed(history, ("told", list(history[0][1]))), links),
+                      (1, told_changed(history, ("told", (history[0][1][0] == 1,) + history[0][1][1:])), links),
+                      (1, told_changed(history, ("told", text)), links), (1, told_changed(history, None), links),
+                      (1, told_changed(history, ("merge", 0, 0, 0)), links)) + STRANGE:
             self.assertIs(reach_holds(TOLD, text, wrong), False, wrong)
 
     def test_papers_of_told_ones_and_of_what_never_comes(self):

@@ -151,6 +151,8 @@ class SidesTest(Case):
         self.assertIs(alike_holds((1,), (1,), (1,), ("block", (1,), (2, 2), (), (0, 0, 0))), True)
         self.assertIs(alike_holds((1,), (1,), (1,), ("base", 2)), True)
         self.assertIs(alike_holds((1,), (1,), (1,), ("base", False)), False)
+        self.assertIs(alike_holds((1,), (1,), (1,), ("base", True)), False)
+        self.assertIs(alike_holds((1,) * 100, (1,) * 101, (1,) * 120, ("block", (), (1,), (), (100, 101, 120))), True)
         self.assertIs(alike_holds((0,), (1,), (2,), ("clash", 1)), True)
         self.assertIs(alike_holds((0,), (1,), (2,), ("clash", True)), False)
         self.assertIs(alike_holds((), (1,), (2,), ("apart", 1)), True)
@@ -212,6 +214,22 @@ class SidesTest(Case):
                 self.assertEqual(len(paper[1]), min(found)[0])
                 self.assertEqual(len(paper[1]), shortest.get((one, other), len(paper[1])))
                 self.assertIs(sides_holds(one, other, ("none",)), False)
+
+    def test_merges_for_parts_put_together(self):
+        generator = random.Random(38)
+        shorter = {True: 0, False: 0}
+        for _ in range(250):
+            front, first, middle, second, back = (tuple(generator.randrange(4) for _ in range(generator.randint(0, 2)))
+                                                  for _ in range(5))
+            one, other = front + first + middle + second + back, front + second + middle + first + back
+            weight, lengths, parts = min(all_partings(one, other))
+            self.assertEqual(exchanged_parts(one, other), parts)
+            paper = sides_paper(one, other)
+            self.assertEqual((paper[0], len(paper[1])), ("merge", weight))
+            self.assertEqual(both_sides(*paper[1:]), (one, other))
+            self.assertIs(sides_holds(one, other, paper), True)
+            shorter[lengths[1] > lengths[3]] += 1
+        self.assertGreater(min(shorter.values()), 5)
 
     def test_merge_papers_changed_at_one_place(self):
         self.assertIs(sides_holds((0, 1), (1, 0), ("merge", (), (0,), (1,))), True)
@@ -386,6 +404,8 @@ class SidesTest(Case):
         for wrong in (None, 0, 101, -1, True, "3", (3,), 2, 10 ** 20):
             self.refuses(InvalidSize, "letters", both_count, (0, 1), (2,), wrong, None)
             self.refuses(InvalidSize, "letters", nth_both, (2, 1), (0,), wrong, None, None)
+        for wrong in (None, 0, 101, -1, True):
+            self.refuses(InvalidSize, "letters", both_count, (), (), wrong, 3)
         for wrong in (None, -1, True, "3", (3,)):
             self.refuses(InvalidSize, "length", both_count, (0, 1), (2,), 3, wrong)
             self.refuses(InvalidSize, "length", nth_both, (0, 1), (2,), 100, wrong, None)
