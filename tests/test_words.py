@@ -78,6 +78,14 @@ class WordsTest(Case):
                 for value in product(pairs, repeat=many):
                     self.assertIs(strikes_hold(word, value), self.holds_by_words(word, value), (word, value))
 
+    def test_pairs_of_any_numbers(self):
+        pairs = list(product(range(-3, 4), repeat=2))
+        for word in ((A, A_UNDONE), (A, A_UNDONE, A), (A, B, B_UNDONE), (B, A, A_UNDONE)):
+            for many in range(3):
+                for value in product(pairs, repeat=many):
+                    right = all(0 <= begin < end < len(word) for begin, end in value)
+                    self.assertIs(strikes_hold(word, value), right and self.holds_by_words(word, value), (word, value))
+
     def holds_by_words(self, word, value):
         places = [place for pair in value for place in pair]
         if list(value) != sorted(value) or len(set(places)) < len(places):
